@@ -1,0 +1,1 @@
+"""Lastpairs: room mates, all lasting pairings, or a ring that bars them."""

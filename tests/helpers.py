@@ -1,0 +1,177 @@
+"""What several tests share: random wishes, and values of every kind."""
+
+import random
+import string
+
+from lastpairs.disk import Disk
+from lastpairs.errors import Broken, InvalidWishes, MateError, Refused
+from lastpairs.journal import Journal
+from lastpairs.lodgings import Lodging
+from lastpairs.wishes import Wishes
+
+NAMES = tuple(sorted(one + other for one in string.ascii_lowercase for other in string.ascii_lowercase))
+
+
+def wishes_of(*lists):
+    """Wishes with short names and these lists."""
+    return Wishes(NAMES[: len(lists)], tuple(tuple(some) for some in lists))
+
+
+def random_wishes(chance, many, share=1.0):
+    """Wishes in which each two persons are on each other's lists with some probability."""
+    lists = [[] for _ in range(many)]
+    for person in range(many):
+        for other in range(person):
+            if chance.random() < share:
+                lists[person].append(other)
+                lists[other].append(person)
+    for some in lists:
+        chance.shuffle(some)
+    return wishes_of(*lists)
+
+
+def many_wishes(seed, count, most, least=1):
+    """Random wishes of all kinds and sizes, always the same for one seed."""
+    chance = random.Random(seed)
+    found = []
+    for at in range(count):
+        many = least + at % (most - least + 1)
+        found.append(random_wishes(chance, many, chance.choice((0.3, 0.6, 0.8, 1.0, 1.0))))
+    return found
+
+
+def ring_wishes(many):
+    """Wishes in which each person has all others, in the sequence of a ring from itself on."""
+    return wishes_of(*[[(person + step) % many for step in range(1, many)] for person in range(many)])
+
+
+def squares(many):
+    """Wishes of so many pieces of four persons, each with two lasting pairings."""
+    lists = []
+    for first in range(0, 4 * many, 4):
+        for some in ((1, 3), (2, 0), (3, 1), (0, 2)):
+            lists.append([first + other for other in some])
+    return wishes_of(*lists)
+
+
+class Hostile:
+    """An object that fails at all that it is asked, but for its class."""
+
+    def __getattribute__(self, name):
+        if name == "__class__":
+            return Hostile
+        raise RuntimeError(name)
+
+    def fail(self, *rest):
+        raise RuntimeError("asked")
+
+    __eq__ = __ne__ = __lt__ = __le__ = __gt__ = __ge__ = __len__ = __iter__ = __bool__ = __contains__ = fail
+    __getitem__ = __index__ = __int__ = __add__ = __radd__ = __sub__ = __and__ = __call__ = fail
+    __repr__ = __str__ = __format__ = __next__ = __mod__ = __neg__ = fail
+    __hash__ = fail
+
+
+class Posing:
+    """An object that says that it is equal to everything, and has what others have."""
+
+    names = ("a",)
+    lists = ((),)
+    pairing = ()
+    wishes = None
+
+    def __eq__(self, other):
+        return True
+
+    def __hash__(self):
+        return 0
+
+    def __len__(self):
+        return 1
+
+    def __iter__(self):
+        return iter((0,))
+
+    def __getitem__(self, at):
+        return 0
+
+    def __index__(self):
+        return 0
+
+    def __lt__(self, other):
+        return True
+
+    __gt__ = __le__ = __ge__ = __lt__
+
+
+def deep_tuple():
+    value = ()
+    for _ in range(3000):
+        value = (value,)
+    return value
+
+
+def zoo():
+    """Values of every kind."""
+    wishes = Wishes(("a", "b"), ((1,), (0,)))
+    return [
+        None, True, False, -1, 61, 300, 10**30, -(10**30), 0.0, 1.0, 1.5, float("nan"), float("inf"), 1j, "", "a", "0", " ",
+        "zz", b"", b"a", bytearray(b"a"), [], [0], [[]], {}, {0: 1}, set(), frozenset({0}), range(2), iter(()),
+        (value for value in ()), object(), Hostile(), Posing(), Hostile, int, len, print, deep_tuple(), wishes,
+        Lodging(wishes, ()), Lodging(None, []), Disk((0,)), Journal(Disk((0,) * 9)), MateError("x"), Refused("word"),
+        Broken(None), InvalidWishes(0), Refused, Wishes, wishes_of, Ellipsis, NotImplemented, ("settle",), ((),),
+        (None,), (True,), ((0, True),), ((False, 1),), ("a",), ([],), (Hostile(),), (Posing(),), ((Hostile(), Hostile()),),
+        ([0, 1],), ("with", Hostile(), 1), (Hostile(), 0, 1), ((0, 1.0),), (0.0,), (-1,), ((-1, 0),), ((1, 0),), ((0, 0),),
+    ]
+
+
+def wrong_forms(value):
+    """Values that are like a value but for one part that is of another kind or not there."""
+    for other in zoo():
+        yield other
+    if isinstance(value, bool):
+        return
+    if isinstance(value, int):
+        yield float(value)
+        yield str(value)
+        if value in (0, 1):
+            yield bool(value)
+    if isinstance(value, str):
+        yield value.encode()
+        yield value + "A"
+        yield value + " "
+        yield tuple(value)
+    if isinstance(value, tuple):
+        yield list(value)
+        yield dict.fromkeys(range(len(value)), 0)
+        yield (value,)
+        for at, part in enumerate(value):
+            yield value[:at] + value[at + 1:]
+            yield value[:at] + (part,) + value[at:]
+            for instead in wrong_forms(part):
+                yield value[:at] + (instead,) + value[at + 1:]
+        for extra in (None, 0, (), (0, 1), "a"):
+            yield value + (extra,)
+
+
+def is_plain(value):
+    """Whether a value is of plain numbers, strings, None and tuples, and so safe to compare."""
+    waiting, seen = [value], 0
+    while waiting:
+        part = waiting.pop()
+        seen += 1
+        if seen > 1000:
+            return False
+        if isinstance(part, tuple):
+            waiting.extend(part)
+        elif isinstance(part, bool) or not (part is None or isinstance(part, (str, int))):
+            return False
+    return True
+
+
+def raised(call, *told):
+    """The error that a call raises, as a tuple of its class and its attributes, or None."""
+    try:
+        call(*told)
+    except MateError as error:
+        return (error.__class__.__name__, *vars(error).values())
+    return None

@@ -1,0 +1,151 @@
+"""What the document says, word for word and without haste, to hold the program against."""
+
+from itertools import permutations, product
+
+
+def is_number(value):
+    return type(value) is int and value >= 0
+
+
+def is_name(value):
+    return type(value) is str and 1 <= len(value) <= 6 and set(value) <= set("abcdefghijklmnopqrstuvwxyz")
+
+
+def rank(wishes, person, other):
+    some = wishes.lists[person]
+    return len(some) if other is None else some.index(other)
+
+
+def rather(wishes, person, one, other):
+    return rank(wishes, person, one) < rank(wishes, person, other)
+
+
+def persons(wishes):
+    return range(len(wishes.names))
+
+
+def pairs(wishes):
+    return [(i, j) for i in persons(wishes) for j in persons(wishes) if i < j and j in wishes.lists[i]]
+
+
+def are_pairs_apart(some):
+    flat = [person for pair in some for person in pair]
+    return len(flat) == len(set(flat))
+
+
+def is_pairing(wishes, value):
+    if type(value) is not tuple:
+        return False
+    for pair in value:
+        if type(pair) is not tuple or len(pair) != 2 or not all(is_number(person) for person in pair):
+            return False
+        if pair not in pairs(wishes):
+            return False
+    return list(value) == sorted(value) and are_pairs_apart(value)
+
+
+def mate(pairing, person):
+    for pair in pairing:
+        if person in pair:
+            return pair[0] + pair[1] - person
+    return None
+
+
+def pairings(wishes):
+    found = [()]
+    for pair in pairs(wishes):
+        found += [some + (pair,) for some in found if are_pairs_apart(some + (pair,))]
+    return sorted(tuple(sorted(some)) for some in found)
+
+
+def blocks(wishes, pairing):
+    return tuple(
+        (i, j)
+        for i, j in pairs(wishes)
+        if rather(wishes, i, j, mate(pairing, i)) and rather(wishes, j, i, mate(pairing, j))
+    )
+
+
+def lasting(wishes):
+    return tuple(some for some in pairings(wishes) if not blocks(wishes, some))
+
+
+def is_parting(wishes, value):
+    if type(value) is not tuple or len(value) != len(wishes.names):
+        return False
+    if not all(is_number(other) for other in value) or sorted(value) != list(persons(wishes)):
+        return False
+    return all(other == person or other in wishes.lists[person] for person, other in enumerate(value))
+
+
+def partings(wishes):
+    return [some for some in permutations(persons(wishes)) if is_parting(wishes, some)]
+
+
+def before(parting, person):
+    """The one before a person, None for nobody."""
+    return None if parting[person] == person else parting.index(person)
+
+
+def does_parting_last(wishes, parting):
+    """Of chapter 2: also for persons not next to one another alone."""
+    for i in persons(wishes):
+        if parting[i] != i and rather(wishes, i, before(parting, i), parting[i]):
+            return False
+        for j in wishes.lists[i]:
+            beside = parting[i] == j or parting[j] == i
+            if not beside and rather(wishes, i, j, before(parting, i)) and rather(wishes, j, i, before(parting, j)):
+                return False
+    return True
+
+
+def lasting_partings(wishes):
+    return tuple(some for some in partings(wishes) if does_parting_last(wishes, some))
+
+
+def all_holds(wishes):
+    return product(*[some + (None,) for some in wishes.lists])
+
+
+def is_left(wishes, holds, i, j):
+    if j not in wishes.lists[i]:
+        return False
+    return not rather(wishes, i, holds[i], j) and not rather(wishes, j, holds[j], i)
+
+
+def left_list(wishes, holds, person):
+    return tuple(other for other in wishes.lists[person] if is_left(wishes, holds, person, other))
+
+
+def is_steady(wishes, holds):
+    firsts = [(left_list(wishes, holds, person) + (None,))[0] for person in persons(wishes)]
+    for person in persons(wishes):
+        if [other for other in persons(wishes) if firsts[other] == person] != (
+            [] if holds[person] is None else [holds[person]]
+        ):
+            return False
+    return True
+
+
+def steady_tables(wishes):
+    found = [holds for holds in all_holds(wishes) if is_steady(wishes, holds)]
+    return sorted(found, key=lambda holds: [rank(wishes, person, held) for person, held in enumerate(holds)])
+
+
+def can_ask(wishes, holds, person):
+    return person not in holds and bool(left_list(wishes, holds, person))
+
+
+def asked(wishes, holds, person):
+    first = left_list(wishes, holds, person)[0]
+    return tuple(person if other == first else held for other, held in enumerate(holds))
+
+
+def follow(wishes, row):
+    """The holds when persons have asked one after another, None if one cannot."""
+    holds = (None,) * len(wishes.names)
+    for person in row:
+        if not is_number(person) or person >= len(holds) or not can_ask(wishes, holds, person):
+            return None
+        holds = asked(wishes, holds, person)
+    return holds

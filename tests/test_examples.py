@@ -1,0 +1,108 @@
+"""The examples of the document, word for word, as far as they tell of what is built."""
+
+import doctest
+import unittest
+
+# Of the examples of points 25 and 26, 58, and 79 only the lines for what is built are here.
+CHAPTERS = {
+    "[8] to [10]": """
+    >>> from lastpairs.remade import pieces_in, renamed_wishes
+    >>> from lastpairs.sides import sides_or_ring
+    >>> from lastpairs.wishes import Wishes, best_of, rank_of
+    >>> wishes = Wishes(("fir", "lark", "moss", "wren"), ((1, 2), (2, 0), (0, 1), ()))
+    >>> rank_of(wishes, 1, 0), rank_of(wishes, 1, None), best_of(wishes, 2, (1, 3)), pieces_in(wishes)
+    (1, 2, 1, ((0, 1, 2), (3,)))
+    >>> renamed_wishes(wishes, ("d", "c", "b", "a"))[0].lists
+    ((), (3, 2), (1, 3), (2, 1))
+    >>> sides_or_ring(Wishes(("ash", "bee", "elm", "owl"), ((1, 3), (2, 0), (1,), (0,))))
+    ('sides', (0, 1, 0, 1))
+    """,
+    "[12] to [14]": """
+    >>> from lastpairs.reader import read_pairing, read_parting, read_wishes
+    >>> wishes = read_wishes("moss: fir lark\\nfir: lark moss\\n\\nwren:\\nlark: moss fir")
+    >>> wishes.names, wishes.lists
+    (('fir', 'lark', 'moss', 'wren'), ((1, 2), (2, 0), (0, 1), ()))
+    >>> read_pairing(wishes, "moss fir"), read_parting(wishes, "lark moss fir"), read_parting(wishes, "")
+    (((0, 2),), (1, 2, 0, 3), (0, 1, 2, 3))
+    >>> from lastpairs.printer import show_pairing, show_parting, show_wishes
+    >>> show_wishes(wishes), show_pairing(wishes, ((0, 2),)), show_parting(wishes, (1, 2, 0, 3))
+    ('fir: lark moss\\nlark: moss fir\\nmoss: fir lark\\nwren:', 'fir moss', 'fir lark moss')
+    """,
+    "[15] to [20]": """
+    >>> from lastpairs.between import gainers, rings_between
+    >>> from lastpairs.plain import blocking_pairs, lasting_pairings
+    >>> from lastpairs.wishes import Wishes
+    >>> wishes = Wishes(("a", "b", "c", "d", "e"), ((1, 3), (2, 0), (3, 1), (0, 2, 4), (3,)))
+    >>> lasting_pairings(wishes), blocking_pairs(wishes, ((0, 1), (3, 4)))
+    ((((0, 1), (2, 3)), ((0, 3), (1, 2))), ((1, 2), (2, 3)))
+    >>> rings_between(((0, 1), (2, 3)), ((0, 3), (1, 2))), gainers(wishes, ((0, 1), (2, 3)), ((0, 3), (1, 2)))
+    (((0, 1, 2, 3),), (0, 2))
+    >>> from lastpairs.plainpartings import barring_pairs, lasting_partings, rings_of
+    >>> odd = Wishes(("a", "b", "c", "d"), ((1, 2), (2, 0), (0, 1, 3), (2,)))
+    >>> lasting_partings(odd), rings_of((1, 2, 0, 3)), barring_pairs(odd, (1, 0, 3, 2))
+    (((1, 2, 0, 3),), ((0, 1, 2), (3,)), ((1, 2),))
+    >>> from lastpairs.plainpartings import split_ring
+    >>> split_ring((1, 2, 3, 0, 4), 0), split_ring((1, 2, 3, 0, 4), 1)
+    ((1, 0, 3, 2, 4), (3, 2, 1, 0, 4))
+    """,
+    "[21] to [25]": """
+    >>> from lastpairs.left import firsts_left, is_steady, left_lists
+    >>> from lastpairs.proposals import asked_once, asked_out, askers
+    >>> from lastpairs.wishes import Wishes
+    >>> wishes = Wishes(("a", "b", "c", "d", "e"), ((1, 3), (2, 0), (3, 1), (0, 2, 4), (3,)))
+    >>> asked_out(wishes), left_lists(wishes, (3, 0, 1, 2, None)), firsts_left(wishes, (None, None, None, 0, None))
+    ((3, 0, 1, 2, None), ((1, 3), (2, 0), (3, 1), (0, 2), ()), (1, 2, 1, 0, None))
+    >>> askers(wishes, (None, None, None, 0, None)), asked_once(wishes, (None, None, None, 4, None), 0)
+    ((1, 2, 3), (None, 0, None, 4, None))
+    >>> from lastpairs.askpapers import ends_left, is_barring_asks
+    >>> ends_left(wishes), is_barring_asks(wishes, 3, 4, (0, 2))
+    (((1, 3), (2, 0), (3, 1), (0, 2), None), True)
+    """,
+    "[27] and [28]": """
+    >>> from lastpairs.proposals import asked_out
+    >>> from lastpairs.turnrings import turn_rings, turned_out
+    >>> from lastpairs.wishes import Wishes
+    >>> wishes = Wishes(("a", "b", "c", "d"), ((1, 3, 2), (2, 0, 3), (3, 1, 0), (0, 2, 1)))
+    >>> asked_out(wishes), turn_rings(wishes, (3, 0, 1, 2))
+    ((3, 0, 1, 2), (((0, 1), (2, 3)), ((1, 2), (3, 0))))
+    >>> turned_out(wishes, (3, 0, 1, 2), ((0, 1), (2, 3)))
+    (3, 2, 1, 0)
+    """,
+    "[58]": """
+    >>> from lastpairs.middles import difference, middle_pairing
+    >>> from lastpairs.plain import lasting_pairings
+    >>> from lastpairs.wishes import Wishes
+    >>> wishes = Wishes(("a", "b", "c", "x", "y", "z"), ((3, 4, 5), (4, 5, 3), (5, 3, 4), (1, 2, 0), (2, 0, 1), (0, 1, 2)))
+    >>> told = lasting_pairings(wishes)
+    >>> told
+    (((0, 3), (1, 4), (2, 5)), ((0, 4), (1, 5), (2, 3)), ((0, 5), (1, 3), (2, 4)))
+    >>> middle_pairing(wishes, told) == told[1], difference(wishes, told[0], told[2])
+    (True, 12)
+    """,
+    "[75] to [77]": """
+    >>> from lastpairs.disk import Disk, cut_cells
+    >>> from lastpairs.lodgings import Lodging, lodging_after_all
+    >>> from lastpairs.reader import read_wishes
+    >>> wishes = read_wishes("ann: bob\\nbob: ann cid\\ncid: bob")
+    >>> lodging_after_all(Lodging(wishes, ()), (("settle", ((0, 1),)), ("come", "bea", ((0, 0), (2, 1))))).pairing
+    ((0, 2),)
+    >>> cut_cells((5, 6, 7, 8), ((1, 9), None, (2, 3), (0, 4)), (77, 0))
+    (77, 9, 0, 8)
+    """,
+}
+
+
+class ExamplesTest(unittest.TestCase):
+    def test_examples(self):
+        parser = doctest.DocTestParser()
+        for chapter, text in CHAPTERS.items():
+            runner = doctest.DocTestRunner(verbose=False)
+            test = parser.get_doctest(text, {}, chapter, None, 0)
+            self.assertTrue(test.examples)
+            told = []
+            runner.run(test, out=told.append)
+            self.assertEqual(runner.failures, 0, "".join(told))
+
+
+if __name__ == "__main__":
+    unittest.main()

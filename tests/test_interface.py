@@ -1,0 +1,120 @@
+"""The names, places and parameters of what the document's interface lists."""
+
+import ast
+import importlib
+import inspect
+import unittest
+
+from tests.test_language import text_of
+
+FUNCTIONS = {
+    "printer": ["show_wishes(wishes)", "show_pairing(wishes, pairing)", "show_parting(wishes, parting)"],
+    "disk": ["pending_places(events)", "cut_cells(cells, events, octets)"],
+    "lexer": ["marks_of(text)"],
+    "wishes": [
+        "person_number(wishes, name)", "is_wished(wishes, person, other)", "rank_of(wishes, person, other)",
+        "would_rather(wishes, person, one, other)", "ranks_in(wishes)", "best_of(wishes, person, some)",
+        "worst_of(wishes, person, some)", "pairs_in(wishes)",
+    ],
+    "commands": ["is_command(value)", "read_commands(text)", "show_command(command)", "show_commands(commands)"],
+    "left": [
+        "are_holds(wishes, value)", "left_lists(wishes, holds)", "left_wishes(wishes, holds)",
+        "firsts_left(wishes, holds)", "is_steady(wishes, value)", "are_within(wishes, one, other)",
+    ],
+    "plain": [
+        "check_pairing(wishes, value)", "partner_of(pairing, person)", "single_in(wishes, pairing)",
+        "all_pairings(wishes)", "blocking_pairs(wishes, pairing)", "is_lasting(wishes, pairing)",
+        "lasting_pairings(wishes)",
+    ],
+    "remade": [
+        "both_ways(names, lists)", "with_persons(wishes, persons)", "without_persons(wishes, persons)",
+        "without_pairs(wishes, pairs)", "with_list(wishes, person, some)", "renamed_wishes(wishes, names)",
+        "piece_of(wishes, person)", "pieces_in(wishes)",
+    ],
+    "sides": ["sides_or_ring(wishes)", "are_sides(wishes, value)", "is_odd_ring(wishes, value)", "is_two_sided(wishes)"],
+    "between": ["rings_between(one, other)", "gainers(wishes, one, other)"],
+    "conditions": [
+        "is_condition(wishes, value)", "is_question(wishes, value)", "meets(wishes, pairing, condition)",
+        "answers_all(wishes, pairing, question)",
+    ],
+    "lodgings": [
+        "is_lodging(value)", "is_deed(lodging, value)", "lodging_after(lodging, deed)",
+        "lodging_after_all(lodging, deeds)",
+    ],
+    "middles": [
+        "middle_pairing(wishes, pairings)", "is_middle(wishes, pairings, value)", "difference(wishes, one, other)",
+    ],
+    "plainpartings": [
+        "check_parting(wishes, value)", "before_in(parting)", "rings_of(parting)", "turned_persons(wishes, parting)",
+        "barring_pairs(wishes, parting)", "is_lasting_parting(wishes, parting)", "lasting_partings(wishes)",
+        "paired_parting(wishes, pairing)", "split_ring(parting, person)",
+    ],
+    "proposals": [
+        "askers(wishes, holds)", "asked_once(wishes, holds, person)", "holds_behind(wishes, row)",
+        "is_asking(wishes, value)", "askers_by(wishes, order)", "asked_out(wishes)", "left_single(wishes)",
+    ],
+    "reader": [
+        "read_wishes(text)", "read_pairing(wishes, text)", "read_parting(wishes, text)", "completed_wishes(text)",
+        "completed_pairing(wishes, text)", "completed_parting(wishes, text)",
+    ],
+    "turnrings": [
+        "giver_behind(wishes, holds, person)", "turn_from(wishes, holds, person)", "turn_rings(wishes, holds)",
+        "is_turn_ring(wishes, holds, value)", "is_odd_turn(wishes, holds, ring)", "turned_out(wishes, holds, ring)",
+        "good_rings(wishes, holds)",
+    ],
+    "alltables": ["steady_tables(wishes)", "rings_to(wishes, holds, aim)"],
+    "askpapers": [
+        "ends_left(wishes)", "can_still_be(wishes, person, other)", "barring_asks(wishes, person, other)",
+        "is_barring_asks(wishes, person, other, value)",
+    ],
+}
+
+CLASSES = {
+    "errors": {
+        "MateError": [], "InvalidWishes": ["__init__(self, at)"], "InvalidText": ["__init__(self, line, at)"],
+        "InvalidPairing": ["__init__(self, at)"], "InvalidParting": ["__init__(self, at)"],
+        "InvalidPaper": ["__init__(self, at)"], "InvalidNumber": ["__init__(self, word)"],
+        "Refused": ["__init__(self, word)"], "Broken": ["__init__(self, word)"],
+    },
+    "wishes": {"Wishes": ["__init__(self, names, lists)"]},
+    "disk": {"Disk": ["__init__(self, cells)", "look(self, at)", "put(self, at, octet)", "flush(self)", "events(self)"]},
+    "journal": {
+        "Journal": [
+            "__init__(self, disk)", "records(self)", "write(self, record)", "drop(self)", "renew(self, records)",
+        ],
+    },
+    "lodgings": {"Lodging": ["__init__(self, wishes, pairing)"]},
+}
+
+
+class InterfaceTest(unittest.TestCase):
+    def test_functions(self):
+        for module, functions in FUNCTIONS.items():
+            loaded = importlib.import_module("lastpairs." + module)
+            defined = [node.name for node in ast.parse(text_of(module + ".py")).body if isinstance(node, ast.FunctionDef)]
+            for line in functions:
+                name, _, parameters = line.partition("(")
+                self.assertIn(name, defined, module)
+                self.assertEqual(str(inspect.signature(getattr(loaded, name))), "(" + parameters)
+
+    def test_classes(self):
+        for module, classes in CLASSES.items():
+            loaded = importlib.import_module("lastpairs." + module)
+            bodies = {node.name: node.body for node in ast.parse(text_of(module + ".py")).body if isinstance(node, ast.ClassDef)}
+            for name, methods in classes.items():
+                own = [node.name for node in bodies[name] if isinstance(node, ast.FunctionDef)]
+                for line in methods:
+                    method, _, parameters = line.partition("(")
+                    self.assertIn(method, own, name)
+                    self.assertEqual(str(inspect.signature(getattr(getattr(loaded, name), method))), "(" + parameters)
+
+    def test_no_class_is_derived_from_another_one_but_for_the_errors(self):
+        for module, classes in CLASSES.items():
+            loaded = importlib.import_module("lastpairs." + module)
+            for name in classes:
+                if module != "errors":
+                    self.assertEqual(getattr(loaded, name).__bases__, (object,))
+
+
+if __name__ == "__main__":
+    unittest.main()
