@@ -27,8 +27,6 @@ def steady_tables(wishes):
 
 def rings_to(wishes, holds, aim):
     """Good rings that are turned out one after another, from holds to an aim."""
-    if not are_within(wishes, aim, holds):
-        raise Refused("aim")
     row = ()
     while holds != aim:
         ring = _ring_towards(wishes, holds, aim)
@@ -38,6 +36,7 @@ def rings_to(wishes, holds, aim):
 
 
 def _ring_towards(wishes, holds, aim):
+    """A good ring behind which an aim is still within the holds: there is one unless it is not so now."""
     for ring in good_rings(wishes, holds):
         if are_within(wishes, aim, holds_past(holds, ring)):
             return ring

@@ -18,7 +18,7 @@ class RingsText:
         if mark == ",":
             return self._end_ring()
         person = self._numbers.get(mark, None)
-        if person is None or person not in self._free or not self._may_follow(person):
+        if person not in self._free or not self._may_follow(person):
             return False
         del self._free[person]
         self._rings[-1].append(person)

@@ -28,23 +28,17 @@ def _spread(wishes, sides, before, first):
                 before[other] = person
                 waiting.append(other)
             elif sides[other] == sides[person]:
-                return _ring_of_ways(_way_back(before, person), _way_back(before, other))
+                return _ring_back(before, person, other)
     return None
 
 
-def _way_back(before, person):
-    way = [person]
-    while before[way[-1]] is not None:
-        way.append(before[way[-1]])
-    return way
-
-
-def _ring_of_ways(one, other):
-    """The ring of two ways back to the same person, up to where they meet first."""
-    while len(one) > 1 and len(other) > 1 and one[-2] == other[-2]:
-        one = one[:-1]
-        other = other[:-1]
-    return tuple(one + other[-2::-1])
+def _ring_back(before, person, other):
+    """The ring from a person back to who has given another one its side, and by this one."""
+    # Persons wait on a stack: whoever still waits was given its side by somebody on the way back.
+    ring = [person]
+    while ring[-1] != before[other]:
+        ring.append(before[ring[-1]])
+    return tuple(ring + [other])
 
 
 def are_sides(wishes, value):

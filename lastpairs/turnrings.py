@@ -1,7 +1,7 @@
 """Rings of steady holds, and how they are turned out."""
 
 from lastpairs.errors import Refused
-from lastpairs.kinds import are_persons, is_tuple_of
+from lastpairs.kinds import are_persons
 from lastpairs.left import left_lists
 
 
@@ -55,13 +55,9 @@ def _rings_in(holds, lists):
 
 def is_turn_ring(wishes, holds, value):
     """Whether a value is a ring."""
-    return _are_pairs(value, len(holds)) and value in turn_rings(wishes, holds)
-
-
-def _are_pairs(value, many):
-    if not isinstance(value, tuple):
+    if not isinstance(value, tuple) or not all([are_persons(pair, len(holds)) for pair in value]):
         return False
-    return all([is_tuple_of(pair, 2) and are_persons(pair, many) for pair in value])
+    return value in turn_rings(wishes, holds)
 
 
 def is_odd_turn(wishes, holds, ring):

@@ -87,6 +87,7 @@ class MeetsTest(unittest.TestCase):
                     self.assertIs(meets(wishes, pairing, ("best", i, rank)), has and naive.rank(wishes, i, mates[i]) <= rank)
                     self.assertIs(meets(wishes, pairing, ("worst", i, rank)), not has or naive.rank(wishes, i, mates[i]) >= rank)
                 for one, other in product(couples, couples):
+                    self.assertIs(is_condition(wishes, ("either",) + one + other), True)
                     expected = mates[one[0]] == one[1] or mates[other[0]] == other[1]
                     self.assertIs(meets(wishes, pairing, ("either",) + one + other), expected)
 

@@ -1,6 +1,7 @@
 """The examples of the document, word for word, as far as they tell of what is built."""
 
 import doctest
+import os
 import unittest
 
 # Of the examples of points 25 and 26, 58, and 79 only the lines for what is built are here.
@@ -102,6 +103,10 @@ class ExamplesTest(unittest.TestCase):
             told = []
             runner.run(test, out=told.append)
             self.assertEqual(runner.failures, 0, "".join(told))
+
+    def test_the_readme(self):
+        readme = os.path.join(os.path.dirname(os.path.dirname(os.path.abspath(__file__))), "README.md")
+        self.assertEqual(doctest.testfile(readme, module_relative=False).failed, 0)
 
 
 if __name__ == "__main__":

@@ -50,6 +50,19 @@ class TurnRingsTest(unittest.TestCase):
         self.assertIs(is_odd_turn(FOUR, HOLDS, ((0, 1), (2, 3))), False)
         self.assertEqual(good_rings(wishes=FOUR, holds=HOLDS), turn_rings(FOUR, HOLDS))
 
+    def test_rings_stand_by_their_least_givers(self):
+        # Person 0 leads to the ring whose least giver is greater.
+        wishes = wishes_of(
+            (1, 2, 5, 3, 4, 8, 7, 6), (7, 4, 3, 8, 6, 5, 0, 2), (1, 5, 6, 8, 7, 3, 4, 0), (8, 5, 2, 4, 1, 6, 0, 7),
+            (0, 2, 1, 7, 6, 8, 3, 5), (3, 0, 7, 2, 1, 4, 6, 8), (8, 0, 3, 4, 5, 7, 2, 1), (0, 2, 6, 5, 1, 4, 3, 8),
+            (2, 0, 7, 4, 3, 1, 6, 5),
+        )
+        holds = (4, 0, 8, 5, 6, 2, 7, 1, 3)
+        self.assertEqual(asked_out(wishes), holds)
+        self.assertEqual(turn_rings(wishes, holds), (((1, 7), (6, 4)), ((2, 5), (3, 8))))
+        self.assertEqual(good_rings(wishes, holds), turn_rings(wishes, holds))
+        self.assertEqual(turn_from(wishes, holds, 0), ((2, 5), (3, 8)))
+
     def test_lists_too_short(self):
         pairs = (1, 0, 3, 2)
         for person in range(4):
@@ -83,7 +96,7 @@ class TurnRingsTest(unittest.TestCase):
 
     def test_against_the_words(self):
         odd = 0
-        for wishes in many_wishes(27, 60, 5, 3) + many_wishes(28, 20, 6, 6):
+        for wishes in many_wishes(27, 60, 5, 3) + many_wishes(28, 150, 12, 6):
             tables = naive.steady_tables(wishes) if len(wishes.names) < 6 else [asked_out(wishes)]
             for holds in tables:
                 rings = rings_by_words(wishes, holds)
