@@ -39,6 +39,16 @@ def are_unlike_persons(value, many):
     return are_persons(value, many) and len(set(value)) == len(value)
 
 
+def is_lot_of_persons(value, many):
+    """Whether a value is a lot of persons, of so many."""
+    return are_persons(value, many) and all([value[at - 1] < value[at] for at in range(1, len(value))])
+
+
+def are_rows_of_persons(value, many):
+    """Whether a value is a tuple of tuples of persons, of so many, as a ring's pairs are."""
+    return isinstance(value, tuple) and all([are_persons(row, many) for row in value])
+
+
 def is_couple(value, many):
     """Whether a value is a pair of persons, of so many, the lesser one first."""
     return is_tuple_of(value, 2) and are_persons(value, many) and value[0] < value[1]

@@ -1,7 +1,7 @@
 """Lodgings: wishes with a pairing that is in force, and the deeds that change them."""
 
 from lastpairs.kinds import is_below, is_couple, is_name, is_number, is_tuple_of
-from lastpairs.plain import blocking_pairs, is_lasting, is_pairing
+from lastpairs.plain import blocking_pairs, does_last, is_pairing
 from lastpairs.remade import is_list_again, with_list, without_pairs, without_persons
 from lastpairs.wishes import MOST_PERSONS, Wishes, is_wished
 
@@ -74,7 +74,7 @@ def _can_join(lodging, deed):
 
 
 def _can_settle(lodging, deed):
-    return len(deed) == 2 and is_pairing(lodging.wishes, deed[1]) and is_lasting(lodging.wishes, deed[1])
+    return len(deed) == 2 and does_last(lodging.wishes, deed[1])
 
 
 CHECKS = {

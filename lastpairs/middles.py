@@ -11,12 +11,13 @@ def middle_pairing(wishes, pairings):
         raise Refused("even")
     many = len(wishes.names)
     rows = [mates_in(many, pairing) for pairing in pairings]
-    return pairs_of_mates([_middle_mate(wishes, person, [row[person] for row in rows]) for person in range(many)])
+    place = len(rows) // 2
+    return pairs_of_mates([mate_at(wishes, person, [row[person] for row in rows], place) for person in range(many)])
 
 
-def _middle_mate(wishes, person, mates):
-    ranks = sorted([rank_of(wishes, person, mate) for mate in mates])
-    rank = ranks[len(ranks) // 2]
+def mate_at(wishes, person, mates, place):
+    """The one at a place of some mates of a person, sorted by their ranks, or None."""
+    rank = sorted([rank_of(wishes, person, mate) for mate in mates])[place]
     return wishes.lists[person][rank] if rank < len(wishes.lists[person]) else None
 
 

@@ -86,6 +86,11 @@ def _do_meet(pair, other):
     return pair[0] in other or pair[1] in other
 
 
+def pair_of(one, other):
+    """The pair of two persons, the lesser one first."""
+    return min(one, other), max(one, other)
+
+
 def blocking_pairs(wishes, pairing):
     """All pairs who block a pairing."""
     ranks = ranks_in(wishes)
@@ -102,6 +107,11 @@ def blocking_pairs(wishes, pairing):
 def is_lasting(wishes, pairing):
     """Whether nobody blocks a pairing."""
     return not blocking_pairs(wishes, pairing)
+
+
+def does_last(wishes, value):
+    """Whether a value is a pairing that lasts."""
+    return is_pairing(wishes, value) and is_lasting(wishes, value)
 
 
 def lasting_pairings(wishes):

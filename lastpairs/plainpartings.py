@@ -51,7 +51,7 @@ def turned_persons(wishes, parting):
 def barring_pairs(wishes, parting):
     """All pairs who would rather have one another than those before them."""
     ranks = ranks_in(wishes)
-    most = [_rank_before(wishes, person, one) for person, one in enumerate(before_in(parting))]
+    most = [rank_beside(wishes, person, one) for person, one in enumerate(before_in(parting))]
     pairs = []
     for person, some in enumerate(wishes.lists):
         for other in some[:most[person]]:
@@ -60,9 +60,9 @@ def barring_pairs(wishes, parting):
     return tuple(sorted(pairs))
 
 
-def _rank_before(wishes, person, one):
-    """The rank of the one before a person, on whose ring is nobody else if it is itself."""
-    return rank_of(wishes, person, None if one == person else one)
+def rank_beside(wishes, person, other):
+    """The rank of the one before a person, or the next one: of nobody if it is the person itself."""
+    return rank_of(wishes, person, None if other == person else other)
 
 
 def is_lasting_parting(wishes, parting):
@@ -97,8 +97,8 @@ def _try_followers(wishes, parting, before, found):
 
 def _is_barred(wishes, before, person):
     """Whether a person is in a barring pair with another one whose one before is known, too."""
-    for other in wishes.lists[person][:_rank_before(wishes, person, before[person])]:
-        if before[other] != OPEN and rank_of(wishes, other, person) < _rank_before(wishes, other, before[other]):
+    for other in wishes.lists[person][:rank_beside(wishes, person, before[person])]:
+        if before[other] != OPEN and rank_of(wishes, other, person) < rank_beside(wishes, other, before[other]):
             return True
     return False
 

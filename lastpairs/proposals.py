@@ -3,6 +3,7 @@
 from lastpairs.errors import Refused
 from lastpairs.kinds import is_below
 from lastpairs.left import first_left, held_ranks
+from lastpairs.wishes import rank_of
 
 
 def askers(wishes, holds):
@@ -70,7 +71,19 @@ def _first_asker(wishes, holds, order):
 
 def asked_out(wishes):
     """The holds when nobody can ask any more."""
-    return holds_behind(wishes, askers_by(wishes, tuple(range(len(wishes.names)))))
+    # Who asks before whom does not matter, and who has nobody left now has nobody left later.
+    holds = list(no_holds(wishes))
+    most = list(held_ranks(wishes, holds))
+    waiting = list(range(len(holds)))
+    while waiting:
+        person = waiting.pop()
+        other = first_left(wishes, most, person)
+        if other is not None:
+            if holds[other] is not None:
+                waiting.append(holds[other])
+            holds[other] = person
+            most[other] = rank_of(wishes, other, person)
+    return tuple(holds)
 
 
 def left_single(wishes):

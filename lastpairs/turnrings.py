@@ -1,8 +1,9 @@
 """Rings of steady holds, and how they are turned out."""
 
 from lastpairs.errors import Refused
-from lastpairs.kinds import are_persons
+from lastpairs.kinds import are_rows_of_persons
 from lastpairs.left import left_lists
+from lastpairs.rings import all_rings, from_least, ring_from
 
 
 def giver_behind(wishes, holds, person):
@@ -23,19 +24,15 @@ def turn_from(wishes, holds, person):
     lists = left_lists(wishes, holds)
     if len(lists[person]) < 2:
         raise Refused("list")
-    return _ring_behind(_givers_behind(holds, lists), lists, person)
-
-
-def _ring_behind(behind, lists, person):
-    met = {}
-    while person not in met:
-        met[person] = True
+    behind = _givers_behind(holds, lists)
+    # After as many steps as there are persons, the walk goes round the ring.
+    for _ in lists:
         person = behind[person]
-    givers = [person]
-    while behind[givers[-1]] != person:
-        givers.append(behind[givers[-1]])
-    at = givers.index(min(givers))
-    return tuple([(giver, lists[giver][0]) for giver in givers[at:] + givers[:at]])
+    return _with_takers(from_least(ring_from(behind, person)), lists)
+
+
+def _with_takers(givers, lists):
+    return tuple([(giver, lists[giver][0]) for giver in givers])
 
 
 def turn_rings(wishes, holds):
@@ -44,20 +41,12 @@ def turn_rings(wishes, holds):
 
 
 def _rings_in(holds, lists):
-    behind = _givers_behind(holds, lists)
-    rings = {}
-    for person, giver in enumerate(behind):
-        if giver is not None:
-            ring = _ring_behind(behind, lists, person)
-            rings[ring] = True
-    return tuple(sorted(rings))
+    return tuple([_with_takers(givers, lists) for givers in all_rings(_givers_behind(holds, lists))])
 
 
 def is_turn_ring(wishes, holds, value):
     """Whether a value is a ring."""
-    if not isinstance(value, tuple) or not all([are_persons(pair, len(holds)) for pair in value]):
-        return False
-    return value in turn_rings(wishes, holds)
+    return are_rows_of_persons(value, len(holds)) and value in turn_rings(wishes, holds)
 
 
 def is_odd_turn(wishes, holds, ring):
@@ -74,6 +63,11 @@ def good_rings(wishes, holds):
     """All rings that are not odd, by their least givers."""
     lists = left_lists(wishes, holds)
     return tuple([ring for ring in _rings_in(holds, lists) if not _is_odd(lists, ring)])
+
+
+def is_good_ring(wishes, holds, value):
+    """Whether a value is a ring that is not odd."""
+    return are_rows_of_persons(value, len(holds)) and value in good_rings(wishes, holds)
 
 
 def turned_out(wishes, holds, ring):

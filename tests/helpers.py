@@ -7,6 +7,7 @@ from lastpairs.disk import Disk
 from lastpairs.errors import Broken, InvalidWishes, MateError, Refused
 from lastpairs.journal import Journal
 from lastpairs.lodgings import Lodging
+from lastpairs.statuses import PairingPaper, RingPaper, StatusPaper
 from lastpairs.wishes import Wishes
 
 NAMES = tuple(sorted(one + other for one in string.ascii_lowercase for other in string.ascii_lowercase))
@@ -52,6 +53,46 @@ def squares(many):
         for some in ((1, 3), (2, 0), (3, 1), (0, 2)):
             lists.append([first + other for other in some])
     return wishes_of(*lists)
+
+
+def two_sided_ring(many, first=0):
+    """Lists of persons whose sides like each other in opposite sequences, round a ring."""
+    return [[first + (person + step) % many for step in range(1, many, 2)] for person in range(many)]
+
+
+def round_rings(*lengths):
+    """Wishes of pieces of so many persons, each of whom would have its next one first, then the one before."""
+    lists, first = [], 0
+    for many in lengths:
+        for at in range(many):
+            lists.append(list(dict.fromkeys((first + (at + 1) % many, first + (at - 1) % many))) if many > 1 else [])
+        first += many
+    return wishes_of(*lists)
+
+
+def side_by_side(*tables):
+    """Wishes whose pieces are those of several wishes."""
+    lists = []
+    for wishes in tables:
+        first = len(lists)
+        lists.extend([[first + other for other in some] for some in wishes.lists])
+    return wishes_of(*lists)
+
+
+def crossed(many):
+    """Two sides of so many persons, a power of two, with as many turns as there can be."""
+    one = [[many + (at ^ step) for step in range(many)] for at in range(many)]
+    return wishes_of(*one, *[[at ^ step for step in reversed(range(many))] for at in range(many)])
+
+
+def sixties():
+    """Wishes of sixty persons, of many kinds."""
+    chance = random.Random(60)
+    everybody = [[other for other in range(60) if other != person] for person in range(60)]
+    return [
+        ring_wishes(60), wishes_of(*two_sided_ring(60)), squares(15), round_rings(*[3] * 20), round_rings(59, 1), wishes_of(*everybody),
+        wishes_of(*[some[::-1] for some in everybody]), wishes_of(*[()] * 60),
+    ] + [random_wishes(chance, 60, share) for share in (0.1, 0.4, 1.0, 1.0)]
 
 
 class Hostile:
@@ -118,6 +159,7 @@ def zoo():
         "zz", b"", b"a", bytearray(b"a"), [], [0], [[]], {}, {0: 1}, set(), frozenset({0}), range(2), iter(()),
         (value for value in ()), object(), Hostile(), Posing(), Hostile, int, len, print, deep_tuple(), wishes,
         Lodging(wishes, ()), Lodging(None, []), Disk((0,)), Journal(Disk((0,) * 9)), MateError("x"), Refused("word"),
+        PairingPaper(Hostile()), PairingPaper(()), RingPaper(Hostile(), (0,)), RingPaper((0,), Posing()), StatusPaper(Posing(), "even", None),
         Broken(None), InvalidWishes(0), Refused, Wishes, wishes_of, Ellipsis, NotImplemented, ("settle",), ((),),
         (None,), (True,), ((0, True),), ((False, 1),), ("a",), ([],), (Hostile(),), (Posing(),), ((Hostile(), Hostile()),),
         ([0, 1],), ("with", Hostile(), 1), (Hostile(), 0, 1), ((0, 1.0),), (0.0,), (-1,), ((-1, 0),), ((1, 0),), ((0, 0),),

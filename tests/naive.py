@@ -149,3 +149,148 @@ def follow(wishes, row):
             return None
         holds = asked(wishes, holds, person)
     return holds
+
+
+def rings(parting):
+    """All rings, each from its least person on."""
+    found = []
+    for person in range(len(parting)):
+        ring = [person]
+        while parting[ring[-1]] != person:
+            ring.append(parting[ring[-1]])
+        if person == min(ring):
+            found.append(tuple(ring))
+    return found
+
+
+def odd_rings(parting):
+    return tuple(ring for ring in rings(parting) if len(ring) > 1 and len(ring) % 2)
+
+
+def singles(parting):
+    return tuple(person for person, other in enumerate(parting) if person == other)
+
+
+def nearby(parting):
+    """The pairs of persons next to one another."""
+    return tuple(sorted({(min(pair), max(pair)) for pair in enumerate(parting) if pair[0] != pair[1]}))
+
+
+def lots(items):
+    """All lots of some items."""
+    found = [()]
+    for item in sorted(items):
+        found += [some + (item,) for some in found]
+    return sorted(found)
+
+
+def calm_blocks(wishes, pairing):
+    return tuple(
+        pair for pair in blocks(wishes, pairing) if all(mate(pairing, person) is not None for person in pair)
+    )
+
+
+def holder(holds, person):
+    return holds.index(person) if person in holds else None
+
+
+def mirror(holds):
+    return tuple(holder(holds, person) for person in range(len(holds)))
+
+
+def is_firm(wishes, holds):
+    """Of point 39, for holds."""
+    if any(holds.count(held) > 1 for held in holds if held is not None):
+        return False
+    for i in persons(wishes):
+        for j in wishes.lists[i]:
+            if rather(wishes, i, j, holder(holds, i)) and rather(wishes, j, i, holds[j]):
+                return False
+    return True
+
+
+def firm_holds(wishes):
+    found = [holds for holds in all_holds(wishes) if is_firm(wishes, holds)]
+    return sorted(
+        found,
+        key=lambda holds: [-1 if held is None else rank(wishes, person, held) for person, held in enumerate(holds)],
+    )
+
+
+def second(wishes, holds, person):
+    if person not in holds:
+        return None
+    some = wishes.lists[person]
+    for other in some[some.index(holder(holds, person)) + 1:]:
+        if rather(wishes, other, person, holds[other]):
+            return other
+    return None
+
+
+def firm_rings(wishes, holds):
+    """Of point 40: from each giver on, as far as it goes, and back to it."""
+    found = []
+    for first in persons(wishes):
+        if first in holds:
+            givers = [first]
+            while True:
+                taker = second(wishes, holds, givers[-1])
+                giver = None if taker is None else holds[taker]
+                if giver is None or giver in givers:
+                    break
+                givers.append(giver)
+            if giver == first and first == min(givers):
+                found.append(tuple((giver, holder(holds, giver)) for giver in givers))
+    return tuple(sorted(found))
+
+
+def over(holds, ring):
+    """The holds behind a ring that is turned over."""
+    after = list(holds)
+    for (giver, _), (_, taker) in zip(ring, ring[1:] + ring[:1]):
+        after[taker] = giver
+    return tuple(after)
+
+
+def greatest(wishes):
+    """The holds when persons have asked one after another, always the first who can."""
+    holds = (None,) * len(wishes.names)
+    while True:
+        able = [person for person in persons(wishes) if can_ask(wishes, holds, person)]
+        if not able:
+            return holds
+        holds = asked(wishes, holds, able[0])
+
+
+def whole_rows(wishes, most):
+    """All whole rows, or the first of them, as many as told."""
+    waiting, found = [(greatest(wishes), ())], []
+    while waiting and len(found) < most:
+        holds, row = waiting.pop()
+        rings_now = firm_rings(wishes, holds)
+        waiting.extend((over(holds, ring), row + (ring,)) for ring in rings_now)
+        if not rings_now:
+            assert holds == mirror(greatest(wishes))
+            found.append(row)
+    return found
+
+
+def opposite(turn):
+    """Of point 41."""
+    told = [(taker, giver) for (giver, _), (_, taker) in zip(turn, turn[1:] + turn[:1])]
+    at = told.index(min(told))
+    return tuple(told[at:] + told[:at])
+
+
+def leans(wishes, turn, other):
+    """Of point 44."""
+    brought = [(giver, taker) for (giver, _), (_, taker) in zip(other, other[1:] + other[:1])]
+    before = {taker: giver for giver, taker in other}
+    if any(pair in turn for pair in brought):
+        return True
+    for (x, t), (_, u) in zip(turn, turn[1:] + turn[:1]):
+        for w in wishes.lists[x][rank(wishes, x, t) + 1: rank(wishes, x, u)]:
+            for giver, taker in brought:
+                if taker == w and rather(wishes, w, giver, x) and rather(wishes, w, x, before[w]):
+                    return True
+    return False

@@ -8,7 +8,7 @@ from lastpairs.left import are_within, firsts_left, held_ranks
 from lastpairs.proposals import asked_out
 from lastpairs.turnrings import good_rings, turned_out
 from tests import naive
-from tests.helpers import many_wishes, raised, random_wishes, ring_wishes, squares, wishes_of
+from tests.helpers import many_wishes, raised, random_wishes, ring_wishes, squares, two_sided_ring, wishes_of
 
 # Wishes with just 101 steady holds.
 MORE = wishes_of(
@@ -20,11 +20,6 @@ MORE = wishes_of(
     (12, 13, 9, 7, 2, 8, 11, 5, 1, 4, 3, 6, 0), (1, 7, 5, 0, 10, 9, 4, 2, 12, 3, 6, 13, 8),
     (4, 11, 9, 8, 6, 5, 7, 13, 3, 10, 2, 1, 0), (0, 2, 7, 8, 5, 9, 11, 1, 4, 12, 3, 10, 6),
 )
-
-
-def two_sided_ring(many, first=0):
-    """Lists of persons whose sides like each other in opposite sequences, round a ring."""
-    return [[first + (person + step) % many for step in range(1, many, 2)] for person in range(many)]
 
 
 class SteadyTablesTest(unittest.TestCase):

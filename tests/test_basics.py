@@ -2,8 +2,9 @@
 
 import unittest
 
-from lastpairs import alltables, askpapers, between, left, lexer, middles, plain, plainpartings, proposals, remade
-from lastpairs import sides, turnrings, wishes as wishes_module
+from lastpairs import alltables, among, arrivals, asides, askpapers, away, between, betweens, bounds, calm, compared, couples
+from lastpairs import firm, halves, left, lexer, levels, middles, neighbours, order, partings, plain, plainpartings, proposals
+from lastpairs import remade, settlings, sidepairs, sides, turningout, turnrings, turns, wishes as wishes_module
 from lastpairs.disk import Disk
 from lastpairs.journal import Journal
 from lastpairs.lodgings import Lodging, lodging_after
@@ -14,10 +15,12 @@ from tests.helpers import is_plain, many_wishes, squares
 OF_WISHES = (
     wishes_module.ranks_in, wishes_module.pairs_in, remade.pieces_in, sides.sides_or_ring, plain.all_pairings,
     plain.lasting_pairings, plainpartings.lasting_partings, proposals.asked_out, proposals.left_single, askpapers.ends_left,
-    alltables.steady_tables,
+    alltables.steady_tables, turningout.solved, partings.parting_of, partings.odd_rings, partings.single_persons, firm.firm_holds,
+    turns.whole_row, turns.all_turns, order.lean_pairs, order.need_pairs, asides.great_calm_pairing, away.least_aways,
 )
 OF_HOLDS = (
     left.left_lists, left.firsts_left, left.held_ranks, proposals.askers, turnrings.turn_rings, turnrings.good_rings,
+    turningout.turning_row, turningout.last_holds, turningout.parting_by_holds, firm.firm_rings, turns.turns_of,
 )
 
 
@@ -48,7 +51,20 @@ class BasicsTest(unittest.TestCase):
             plainpartings.barring_pairs(wishes, (1, 2, 3, 0)), plainpartings.paired_parting(wishes, one),
             plainpartings.split_ring((1, 0), 0), proposals.holds_behind(wishes, (0,)), proposals.askers_by(wishes, (0, 1, 2, 3)),
             remade.piece_of(wishes, 0), remade.renamed_wishes(wishes, wishes.names)[1], alltables.rings_to(wishes, (3, 0, 1, 2), (1, 0, 3, 2)),
-            Disk((0,)).events(), Journal(Disk((0,))).records(),
+            Disk((0,)).events(), Journal(Disk((0,))).records(), sidepairs.side_pairing(wishes, (0, 1, 0, 1), 0),
+            compared.edges_of((1, 0)), compared.risen_pairs(wishes, (1, 0, 3, 2), (3, 2, 1, 0)), firm.held_by((1, 0)),
+            couples.neighbour_couples(wishes, (1, 0, 3, 2), one), firm.turned_over((3, 0, 1, 2), ((0, 1), (2, 3))),
+            levels.level_pairing(wishes, (0, 1, 0, 1), (one, other), 0), turningout.holds_behind_rings(wishes, (3, 0, 1, 2), ()),
+            turningout.holds_by_parting((1, 0)), among.odd_parts((0,), (0, 1)), halves.halves_of((1, 0)),
+            halves.parting_by_halves(wishes, ((0, 1, 2), (2, 3, 2))), neighbours.blocking_neighbours(wishes, (1, 0, 3, 2), ()),
+            neighbours.strays(wishes, (1, 0, 3, 2), ()), partings.odd_rings_in((1, 2, 0)), partings.single_in_parting((0, 1)),
+            partings.split_parting((1, 0)), partings.pairing_by((1, 0)), turns.opposite_turn(((0, 1), (2, 3))),
+            turns.holds_of_turns(wishes, ()), arrivals.coming_row(wishes, (0, 1, 2), (1, 0, 2, 3), 3),
+            arrivals.freed_persons(wishes, (0, 1, 2), (1, 0, 2, 3), 3), asides.asides_of((1, 2, 0)),
+            asides.aside_pairing((1, 2, 0), (0,)), asides.calmest_aside(wishes, (1, 0, 3, 2)), away.others_pairing(wishes, (0,)),
+            betweens.all_between(wishes, one, other), betweens.way_between(wishes, one, other), bounds.ranks_of_pairing(wishes, ()),
+            bounds.within_paper(wishes, (None,) * 4), calm.paired_persons(one), calm.calm_blocks(wishes, one),
+            order.need_chain(wishes, turns.all_turns(wishes)[0], turns.all_turns(wishes)[0]), settlings.settling(Lodging(wishes, ())),
         ):
             self.assertIs(type(result), tuple)
             self.assertTrue(is_plain(result))

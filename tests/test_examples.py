@@ -4,8 +4,15 @@ import doctest
 import os
 import unittest
 
-# Of the examples of points 25 and 26, 58, and 79 only the lines for what is built are here.
+# Of the examples of points 43, 45, 64 and 79 only the lines for what is built are here.
 CHAPTERS = {
+    "the overview": """
+    >>> from lastpairs.reader import read_wishes
+    >>> from lastpairs.partings import odd_rings, parting_of
+    >>> wishes = read_wishes("ann: bob cid\\nbob: cid ann\\ncid: ann bob")
+    >>> parting_of(wishes), odd_rings(wishes)
+    ((1, 2, 0), ((0, 1, 2),))
+    """,
     "[8] to [10]": """
     >>> from lastpairs.remade import pieces_in, renamed_wishes
     >>> from lastpairs.sides import sides_or_ring
@@ -46,7 +53,7 @@ CHAPTERS = {
     >>> split_ring((1, 2, 3, 0, 4), 0), split_ring((1, 2, 3, 0, 4), 1)
     ((1, 0, 3, 2, 4), (3, 2, 1, 0, 4))
     """,
-    "[21] to [25]": """
+    "[21] to [26]": """
     >>> from lastpairs.left import firsts_left, is_steady, left_lists
     >>> from lastpairs.proposals import asked_once, asked_out, askers
     >>> from lastpairs.wishes import Wishes
@@ -58,6 +65,9 @@ CHAPTERS = {
     >>> from lastpairs.askpapers import ends_left, is_barring_asks
     >>> ends_left(wishes), is_barring_asks(wishes, 3, 4, (0, 2))
     (((1, 3), (2, 0), (3, 1), (0, 2), None), True)
+    >>> from lastpairs.sidepairs import side_pairing
+    >>> side_pairing(wishes, (0, 1, 0, 1, 0), 0), side_pairing(wishes, (0, 1, 0, 1, 0), 1)
+    (((0, 1), (2, 3)), ((0, 3), (1, 2)))
     """,
     "[27] and [28]": """
     >>> from lastpairs.proposals import asked_out
@@ -69,7 +79,45 @@ CHAPTERS = {
     >>> turned_out(wishes, (3, 0, 1, 2), ((0, 1), (2, 3)))
     (3, 2, 1, 0)
     """,
-    "[58]": """
+    "[31]": """
+    >>> from lastpairs.wishes import Wishes
+    >>> from lastpairs.turningout import solved
+    >>> solved(Wishes(("a", "b", "c", "d"), ((1, 2, 3), (2, 0, 3), (0, 1, 3), (0, 1, 2))))
+    ('ring', (0, 1, 2), (1, 2, 0, 3))
+    """,
+    "[33] to [37]": """
+    >>> from lastpairs.partings import odd_rings, parting_of, single_persons
+    >>> from lastpairs.wishes import Wishes
+    >>> wishes = Wishes(("a", "b", "c", "d"), ((1, 2, 3), (2, 0, 3), (0, 1, 3), (0, 1, 2)))
+    >>> parting_of(wishes), odd_rings(wishes), single_persons(wishes)
+    ((1, 2, 0, 3), ((0, 1, 2),), (3,))
+    >>> from lastpairs.neighbours import blocking_neighbours
+    >>> blocking_neighbours(wishes, (1, 2, 0, 3), ((0, 1), (2, 3))), blocking_neighbours(wishes, (1, 2, 0, 3), ((0, 2),))
+    (((1, 2),), ((0, 1),))
+    >>> from lastpairs.halves import are_lasting_halves, halves_of
+    >>> halves_of((1, 2, 0, 3)), are_lasting_halves(wishes, ((0, 1, 2), (2, 3, 2)))
+    (((0, 1, 1), (0, 2, 1), (1, 2, 1)), False)
+    """,
+    "[40] to [43]": """
+    >>> from lastpairs.firm import firm_rings, held_by, turned_over
+    >>> from lastpairs.wishes import Wishes
+    >>> wishes = Wishes(("a", "b", "c", "d"), ((1, 3), (2, 0), (3, 1), (0, 2)))
+    >>> firm_rings(wishes, (3, 0, 1, 2)), turned_over((3, 0, 1, 2), ((0, 1), (2, 3))), held_by((3, 0, 1, 2))
+    ((((0, 1), (2, 3)), ((1, 2), (3, 0))), (3, 2, 1, 0), (1, 2, 3, 0))
+    >>> from lastpairs.turns import all_turns, holds_of_turns, opposite_turn
+    >>> opposite_turn(((0, 1), (2, 3))), all_turns(wishes)
+    (((1, 2), (3, 0)), (((0, 1), (2, 3)), ((1, 2), (3, 0))))
+    >>> holds_of_turns(wishes, (((0, 1), (2, 3)),))
+    (3, 2, 1, 0)
+    """,
+    "[45]": """
+    >>> from lastpairs.order import lean_pairs
+    >>> from lastpairs.wishes import Wishes
+    >>> wishes = Wishes(("a", "b", "c", "d"), ((1, 3), (2, 0), (3, 1), (0, 2)))
+    >>> lean_pairs(wishes)
+    ()
+    """,
+    "[58] to [61]": """
     >>> from lastpairs.middles import difference, middle_pairing
     >>> from lastpairs.plain import lasting_pairings
     >>> from lastpairs.wishes import Wishes
@@ -79,6 +127,41 @@ CHAPTERS = {
     (((0, 3), (1, 4), (2, 5)), ((0, 4), (1, 5), (2, 3)), ((0, 5), (1, 3), (2, 4)))
     >>> middle_pairing(wishes, told) == told[1], difference(wishes, told[0], told[2])
     (True, 12)
+    >>> from lastpairs.betweens import all_between, steps_between, way_between
+    >>> steps_between(wishes, told[0], told[2]), way_between(wishes, told[2], told[0]) == told[::-1], len(all_between(wishes, told[0], told[1]))
+    (2, True, 2)
+    >>> from lastpairs.levels import level_pairing
+    >>> level_pairing(wishes, (0, 0, 0, 1, 1, 1), (told[2], told[0]), 0), level_pairing(wishes, (0, 0, 0, 1, 1, 1), (told[2], told[0]), 1) == told[2]
+    (((0, 3), (1, 4), (2, 5)), True)
+    """,
+    "[63]": """
+    >>> from lastpairs.bounds import cut_wishes, within_paper
+    >>> from lastpairs.wishes import Wishes
+    >>> wishes = Wishes(("a", "b", "c", "d"), ((1, 3), (2, 0), (3, 1), (0, 2)))
+    >>> within_paper(wishes, (0, None, None, None)), within_paper(wishes, (0, 0, None, None))
+    (('within', ((0, 1), (2, 3))), ('barred', (0, 1, 3, 2)))
+    >>> cut_wishes(wishes, (0, 0, None, None)).lists
+    ((), (2,), (3, 1), (2,))
+    """,
+    "[67]": """
+    >>> from lastpairs.arrivals import coming_end, coming_row
+    >>> from lastpairs.wishes import Wishes
+    >>> wishes = Wishes(("a", "b", "c", "d"), ((1, 2, 3), (2, 0, 3), (0, 1, 3), (0, 1, 2)))
+    >>> coming_row(wishes, (0, 1), (1, 0, 2, 3), 2), coming_end(wishes, (0, 1), (1, 0, 2, 3), 2)
+    (((2, 0), (2, 1), (0, 2)), 'ring')
+    """,
+    "[72] and [73]": """
+    >>> from lastpairs.asides import aside_pairing, asides_of
+    >>> from lastpairs.calm import is_calm, most_calm
+    >>> from lastpairs.wishes import Wishes
+    >>> wishes = Wishes(("elm", "fir", "oak", "yew"), ((1, 2, 3), (2, 0, 3), (0, 1, 3), (0, 1, 2)))
+    >>> most_calm(wishes), asides_of((1, 2, 0, 3)), aside_pairing((1, 2, 0, 3), (0,))
+    (1, ((0,), (1,), (2,)), ((1, 2),))
+    >>> is_calm(wishes, ((0, 1),)), is_calm(wishes, ((0, 1), (2, 3)))
+    (True, False)
+    >>> from lastpairs.away import fewest_away, least_aways, others_pairing
+    >>> fewest_away(wishes), least_aways(wishes), others_pairing(wishes, (2,))
+    (1, ((0,), (1,), (2,)), ((0, 1),))
     """,
     "[75] to [77]": """
     >>> from lastpairs.disk import Disk, cut_cells

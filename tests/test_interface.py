@@ -67,6 +67,63 @@ FUNCTIONS = {
         "ends_left(wishes)", "can_still_be(wishes, person, other)", "barring_asks(wishes, person, other)",
         "is_barring_asks(wishes, person, other, value)",
     ],
+    "compared": ["edges_of(parting)", "risen_pairs(wishes, one, other)"],
+    "couples": ["neighbour_couples(wishes, parting, pairing)"],
+    "firm": [
+        "is_firm(wishes, value)", "held_by(holds)", "firm_holds(wishes)", "second_of(wishes, holds, person)",
+        "firm_rings(wishes, holds)", "turned_over(holds, ring)",
+    ],
+    "judge": ["parting_fault(wishes, value)", "is_parting(wishes, value)"],
+    "levels": ["level_pairing(wishes, sides, pairings, place)"],
+    "sidepairs": ["side_pairing(wishes, sides, side)"],
+    "turningout": [
+        "turning_row(wishes, holds)", "last_holds(wishes, holds)", "holds_behind_rings(wishes, holds, row)",
+        "is_turning_row(wishes, holds, value)", "parting_by_holds(wishes, holds)", "holds_by_parting(parting)", "solved(wishes)",
+    ],
+    "among": ["wishes_among(wishes, here)", "is_parting_among(wishes, here, value)", "odd_parts(here, parting)"],
+    "halves": [
+        "halves_of(parting)", "are_halves(wishes, value)", "are_lasting_halves(wishes, value)", "parting_by_halves(wishes, halves)",
+    ],
+    "neighbours": [
+        "blocking_neighbours(wishes, parting, pairing)", "is_unblocked_beside(wishes, parting, pairing)",
+        "strays(wishes, parting, pairing)",
+    ],
+    "partings": [
+        "parting_of(wishes)", "odd_rings_in(parting)", "single_in_parting(parting)", "odd_rings(wishes)", "single_persons(wishes)",
+        "barring_ring(wishes)", "split_parting(parting)", "pairing_by(parting)", "lasting_pairing(wishes)",
+    ],
+    "turns": [
+        "whole_row(wishes)", "is_whole_row(wishes, value)", "all_turns(wishes)", "opposite_turn(ring)", "turns_of(wishes, holds)",
+        "holds_of_turns(wishes, turns)",
+    ],
+    "arrivals": [
+        "coming_row(wishes, here, parting, person)", "coming_end(wishes, here, parting, person)",
+        "freed_persons(wishes, here, parting, person)", "is_coming_row(wishes, here, parting, person, value)",
+    ],
+    "asides": [
+        "is_aside(parting, value)", "asides_of(parting)", "aside_pairing(parting, persons)", "great_calm_pairing(wishes)",
+        "calmest_aside(wishes, parting)",
+    ],
+    "away": ["others_pairing(wishes, persons)", "is_away(wishes, value)", "fewest_away(wishes)", "least_aways(wishes)"],
+    "betweens": [
+        "is_between(wishes, one, other, value)", "all_between(wishes, one, other)", "steps_between(wishes, one, other)",
+        "way_between(wishes, one, other)", "is_way_between(wishes, one, other, value)",
+    ],
+    "bounds": [
+        "ranks_of_pairing(wishes, pairing)", "is_within(wishes, bounds, pairing)", "cut_wishes(wishes, bounds)",
+        "pairing_within(wishes, bounds)", "bars_within(wishes, bounds, value)", "within_paper(wishes, bounds)",
+        "is_within_paper(wishes, bounds, value)",
+    ],
+    "calm": ["paired_persons(pairing)", "calm_blocks(wishes, pairing)", "is_calm(wishes, value)", "most_calm(wishes)"],
+    "order": [
+        "does_lean(wishes, turn, other)", "lean_pairs(wishes)", "need_pairs(wishes)", "need_chain(wishes, turn, other)",
+        "is_need_chain(wishes, value)",
+    ],
+    "settlings": ["settling(lodging)", "is_settling(wishes, value)"],
+    "statuses": [
+        "wishes_paper(wishes)", "is_pairing_paper(wishes, value)", "is_ring_paper(wishes, value)", "status_in(parting, person)",
+        "status_paper(wishes, person)", "is_status_paper(wishes, value)",
+    ],
 }
 
 CLASSES = {
@@ -84,6 +141,10 @@ CLASSES = {
         ],
     },
     "lodgings": {"Lodging": ["__init__(self, wishes, pairing)"]},
+    "statuses": {
+        "PairingPaper": ["__init__(self, pairing)"], "RingPaper": ["__init__(self, parting, ring)"],
+        "StatusPaper": ["__init__(self, person, status, parting)"],
+    },
 }
 
 

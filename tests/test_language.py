@@ -36,8 +36,9 @@ NOT_NODES = (
     ast.NamedExpr, ast.With, ast.Match, ast.AnnAssign, ast.Div, ast.MatMult, ast.Mod, ast.Pow, ast.Nonlocal, ast.Set,
     ast.Import, ast.Starred,
 )
-ITERATED = ("zip", "enumerate", "reversed", "range", "map")
+ITERATED = ("zip", "enumerate", "reversed", "range", "map", "combinations")
 ITERATING = ("list", "tuple", "dict", "sorted", "sum", "any", "all", "enumerate", "zip", "min", "max", "join")
+LIBRARY = {"itertools": ["combinations"], "math": ["comb"]}
 
 
 def files():
@@ -133,10 +134,33 @@ class LanguageTest(unittest.TestCase):
             for node in imports_of(tree):
                 self.assertEqual(node.level, 0, name)
                 head, _, tail = node.module.partition(".")
-                self.assertEqual(head, "lastpairs", name)
+                self.assertIn(head, ["lastpairs", *LIBRARY], name)
                 for alias in node.names:
                     self.assertIsNone(alias.asname, name)
-                    self.assertIn(alias.name, self.defined[tail + ".py"], name)
+                    self.assertIn(alias.name, LIBRARY[head] if head in LIBRARY else self.defined[tail + ".py"], name)
+
+    def test_the_library_is_only_called(self):
+        """By bare names, all by position, and how many to choose by a parameter that is assigned nothing else."""
+        words = [word for known in LIBRARY.values() for word in known]
+        for where, node in self.nodes():
+            if isinstance(node, ast.Name) and node.id in words:
+                self.assertIsInstance(node.above, ast.Call, where)
+                self.assertIs(node.above.func, node, where)
+                self.assertEqual(node.above.keywords, [], where)
+                self.assertFalse(self.function_around(node) is None, where)
+                if node.id == "combinations":
+                    function, many = self.function_around(node), node.above.args[1].id
+                    self.assertIn(many, [arg.arg for arg in function.args.args], where)
+                    assigned = [
+                        part for part in ast.walk(function)
+                        if isinstance(part, ast.Name) and part.id == many and isinstance(part.ctx, ast.Store)
+                    ]
+                    self.assertEqual(assigned, [], where)
+
+    def function_around(self, node):
+        while node is not None and not isinstance(node, ast.FunctionDef):
+            node = getattr(node, "above", None)
+        return node
 
     def test_imports_are_used(self):
         for name, tree in self.trees.items():
@@ -154,7 +178,7 @@ class LanguageTest(unittest.TestCase):
 
     def test_no_circles_of_imports(self):
         needs = {
-            name: {node.module.partition(".")[2] + ".py" for node in imports_of(tree)}
+            name: {node.module.partition(".")[2] + ".py" for node in imports_of(tree) if node.module not in LIBRARY}
             for name, tree in self.trees.items()
         }
         while needs:
@@ -220,7 +244,9 @@ class LanguageTest(unittest.TestCase):
         if isinstance(above, (ast.For, ast.comprehension)):
             return above.iter is node
         if isinstance(above, ast.Call):
-            return getattr(above.func, "id", getattr(above.func, "attr", "")) in ITERATING
+            called = getattr(above.func, "id", getattr(above.func, "attr", ""))
+            # What combinations are of may be a range.
+            return called in ITERATING or (called, getattr(node.func, "id", "")) == ("combinations", "range")
         # A range may be kept.
         return isinstance(above, ast.Assign) and node.func.id == "range"
 
