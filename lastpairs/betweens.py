@@ -1,7 +1,6 @@
 """What lasts between two lasting pairings, and the ways from one to the other."""
 
-from lastpairs.errors import Refused
-from lastpairs.plain import MOST_PERSONS, does_last, lasting_pairings, mates_in, pair_of
+from lastpairs.plain import does_last, lasting_pairings, mates_in, pair_of
 from lastpairs.turns import turns_before, whole_row
 from lastpairs.wishes import rank_of
 
@@ -22,8 +21,6 @@ def _ranks_of_all(wishes, pairing):
 
 def all_between(wishes, one, other):
     """All lasting pairings between two, ascending."""
-    if len(wishes.names) > MOST_PERSONS:
-        raise Refused("size")
     return tuple([pairing for pairing in lasting_pairings(wishes) if _lies_between(wishes, one, other, pairing)])
 
 

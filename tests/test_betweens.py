@@ -137,6 +137,20 @@ class WayTest(unittest.TestCase):
         self.assertIs(is_way_between(eight, a, d, (a, b, a, b, d)), False)
         self.assertIn(way_between(eight, a, d), ((a, b, d), (a, c, d)))
 
+    def test_steps_that_are_too_long(self):
+        """As many steps as are needed, but one of them of three turns, or of none."""
+        twelve = squares(3)
+        first, near, two, last = [
+            tuple((4 * at + i, 4 * at + j) for at, pairs in enumerate(told) for i, j in pairs)
+            for told in ((ONE, ONE, ONE), (ONE, ONE, OTHER), (ONE, OTHER, OTHER), (OTHER, OTHER, OTHER))
+        ]
+        self.assertEqual([steps_between(twelve, first, pairing) for pairing in (near, two, last)], [1, 2, 3])
+        self.assertIs(is_way_between(twelve, first, two, (first, near, two)), True)
+        for way in ((first, last, two), (two, last, first), (first, first, two), (first, two, two), (near, last, two)):
+            self.assertIs(is_way_between(twelve, way[0], way[-1], way), False)
+        self.assertIs(is_way_between(twelve, first, last, (first, last, two, last)), False)
+        self.assertIs(is_way_between(twelve, last, first, (last, two, near, first)), True)
+
     def test_against_the_words(self):
         far_apart = 0
         for wishes, pairings in some_wishes(60):
