@@ -52,3 +52,12 @@ def are_rows_of_persons(value, many):
 def is_couple(value, many):
     """Whether a value is a pair of persons, of so many, the lesser one first."""
     return is_tuple_of(value, 2) and are_persons(value, many) and value[0] < value[1]
+
+
+def is_same(value, told):
+    """Whether a value is the same as another one, which is told by tuples, strings and numbers alone."""
+    if isinstance(told, tuple):
+        return is_tuple_of(value, len(told)) and all([is_same(part, other) for part, other in zip(value, told)])
+    if isinstance(told, str):
+        return isinstance(value, str) and value == told
+    return is_number(value) and value == told

@@ -3,10 +3,16 @@
 import random
 import string
 
+from lastpairs.askedpapers import AnswerPaper, NeverPaper, WalkPaper
+from lastpairs.best import FavouredPaper, LeastPaper
+from lastpairs.desk import start_desk
 from lastpairs.disk import Disk
 from lastpairs.errors import Broken, InvalidWishes, MateError, Refused
 from lastpairs.journal import Journal
+from lastpairs.keptparting import KeptParting
 from lastpairs.lodgings import Lodging
+from lastpairs.mended import ComingPaper
+from lastpairs.nearlypapers import AwayPaper, CalmPaper
 from lastpairs.statuses import PairingPaper, RingPaper, StatusPaper
 from lastpairs.wishes import Wishes
 
@@ -79,10 +85,27 @@ def side_by_side(*tables):
     return wishes_of(*lists)
 
 
+def linked(*tables):
+    """Pieces side by side, of each of which the first person would rather have the second one of the next piece, who would not."""
+    wishes = side_by_side(*tables)
+    firsts = [sum(len(some.names) for some in tables[:at]) for at in range(len(tables))]
+    lists = [list(some) for some in wishes.lists]
+    for at, first in enumerate(firsts):
+        lists[first].insert(0, firsts[at - 1] + 1)
+        lists[firsts[at - 1] + 1].append(first)
+    return wishes_of(*lists)
+
+
 def crossed(many):
     """Two sides of so many persons, a power of two, with as many turns as there can be."""
     one = [[many + (at ^ step) for step in range(many)] for at in range(many)]
     return wishes_of(*one, *[[at ^ step for step in reversed(range(many))] for at in range(many)])
+
+
+def ladder(many):
+    """Two sides of so many persons, an even number, with as many choices: of every two neighbours of the one half hangs one of the other."""
+    lists = [[many + at, many + (at ^ 1), many + (at + 2 if at & 1 else at - 2) % many] for at in range(many)]
+    return wishes_of(*lists, *[[(at - 2 if at & 1 else at + 2) % many, at ^ 1, at] for at in range(many)])
 
 
 def sixties():
@@ -160,7 +183,10 @@ def zoo():
         (value for value in ()), object(), Hostile(), Posing(), Hostile, int, len, print, deep_tuple(), wishes,
         Lodging(wishes, ()), Lodging(None, []), Disk((0,)), Journal(Disk((0,) * 9)), MateError("x"), Refused("word"),
         PairingPaper(Hostile()), PairingPaper(()), RingPaper(Hostile(), (0,)), RingPaper((0,), Posing()), StatusPaper(Posing(), "even", None),
-        Broken(None), InvalidWishes(0), Refused, Wishes, wishes_of, Ellipsis, NotImplemented, ("settle",), ((),),
+        LeastPaper((), Hostile()), LeastPaper(None, Posing()), FavouredPaper((), Hostile()), ComingPaper(Hostile(), Posing()),
+        CalmPaper((), Hostile()), CalmPaper(Posing(), (0,)), AwayPaper(Hostile(), (), ()), AwayPaper((0,), Posing(), None),
+        AnswerPaper(Hostile()), NeverPaper(Hostile()), NeverPaper(True), WalkPaper(Hostile()), WalkPaper((Hostile(),)), WalkPaper(()),
+        KeptParting(wishes), start_desk(Disk((0,) * 200), wishes), Broken(None), InvalidWishes(0), Refused, Wishes, wishes_of, Ellipsis, NotImplemented, ("settle",), ((),),
         (None,), (True,), ((0, True),), ((False, 1),), ("a",), ([],), (Hostile(),), (Posing(),), ((Hostile(), Hostile()),),
         ([0, 1],), ("with", Hostile(), 1), (Hostile(), 0, 1), ((0, 1.0),), (0.0,), (-1,), ((-1, 0),), ((1, 0),), ((0, 0),),
     ]
@@ -217,3 +243,31 @@ def raised(call, *told):
     except MateError as error:
         return (error.__class__.__name__, *vars(error).values())
     return None
+
+
+def shaken(wishes, chance, swaps, gone=0):
+    """Wishes in which some who are next to one another on a list have changed places, and some pairs are gone."""
+    lists = [list(some) for some in wishes.lists]
+    for _ in range(gone):
+        person = chance.randrange(len(lists))
+        if lists[person]:
+            other = chance.choice(lists[person])
+            lists[person].remove(other)
+            lists[other].remove(person)
+    for _ in range(swaps):
+        some = chance.choice(lists)
+        if len(some) > 1:
+            at = chance.randrange(1, len(some))
+            some[at - 1], some[at] = some[at], some[at - 1]
+    return wishes_of(*lists)
+
+
+def rich_wishes(seed, count):
+    """Wishes of up to twelve persons that mostly have several turns, free ones, sure ones and odd ones."""
+    chance = random.Random(seed)
+    shapes = (
+        crossed(4), crossed(4), ring_wishes(8), wishes_of(*two_sided_ring(8)), wishes_of(*two_sided_ring(10)), squares(3), ring_wishes(10),
+        side_by_side(round_rings(3), squares(2)), side_by_side(ring_wishes(6), squares(1)), side_by_side(crossed(4), round_rings(3)),
+        side_by_side(ring_wishes(6), round_rings(3)), ring_wishes(7),
+    )
+    return [shaken(shapes[at % len(shapes)], chance, chance.choice((0, 1, 2, 3, 5, 8)), chance.choice((0, 0, 1, 2))) for at in range(count)]

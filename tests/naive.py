@@ -1,6 +1,22 @@
 """What the document says, word for word and without haste, to hold the program against."""
 
+from functools import wraps
 from itertools import permutations, product
+
+
+def kept(call):
+    """Keeps what was found for some wishes, as it is asked for again and again."""
+    known = {}
+
+    @wraps(call)
+    def found(wishes):
+        if wishes.lists not in known:
+            if len(known) > 2000:
+                known.clear()
+            known[wishes.lists] = call(wishes)
+        return known[wishes.lists]
+
+    return found
 
 
 def is_number(value):
@@ -252,14 +268,15 @@ def over(holds, ring):
     return tuple(after)
 
 
+@kept
 def greatest(wishes):
     """The holds when persons have asked one after another, always the first who can."""
     holds = (None,) * len(wishes.names)
     while True:
-        able = [person for person in persons(wishes) if can_ask(wishes, holds, person)]
-        if not able:
+        able = next((person for person in persons(wishes) if can_ask(wishes, holds, person)), None)
+        if able is None:
             return holds
-        holds = asked(wishes, holds, able[0])
+        holds = asked(wishes, holds, able)
 
 
 def whole_rows(wishes, most):
@@ -294,3 +311,88 @@ def leans(wishes, turn, other):
                 if taker == w and rather(wishes, w, giver, x) and rather(wishes, w, x, before[w]):
                     return True
     return False
+
+
+@kept
+def whole_row(wishes):
+    return whole_rows(wishes, 1)[0]
+
+
+@kept
+def all_turns(wishes):
+    return tuple(sorted(whole_row(wishes)))
+
+
+@kept
+def chains(wishes):
+    """Of point 54: for each person those who hold it, as the rings of a whole row are turned over."""
+    holds = greatest(wishes)
+    found = [[holder(holds, person)] for person in persons(wishes)]
+    for ring in whole_row(wishes):
+        holds = over(holds, ring)
+        for person, chain in enumerate(found):
+            if holder(holds, person) != chain[-1]:
+                chain.append(holder(holds, person))
+    return [() if chain == [None] else tuple(chain) for chain in found]
+
+
+@kept
+def closed_lots(wishes):
+    """Of point 45: all lots of turns that have with each turn all that it leans on."""
+    found = [()]
+    # In a whole row each turn stands behind all that it leans on: so no closed lot is left out.
+    for turn in whole_row(wishes):
+        causes = {other for other in all_turns(wishes) if leans(wishes, turn, other)}
+        found += [lot + (turn,) for lot in found if causes.issubset(lot)]
+    return sorted(tuple(sorted(lot)) for lot in found)
+
+
+def is_complete(turns, lot):
+    """Of point 42: just one of each two unlike opposites, and no own opposite."""
+    for turn in turns:
+        if opposite(turn) == turn and turn in lot:
+            return False
+        if opposite(turn) != turn and (turn in lot) == (opposite(turn) in lot):
+            return False
+    return True
+
+
+@kept
+def complete_lots(wishes):
+    return [lot for lot in closed_lots(wishes) if is_complete(all_turns(wishes), lot)]
+
+
+def ends(wishes):
+    """Of point 43: the rings of all ways to an end, as lots."""
+    found, met, waiting = set(), {()}, [(greatest(wishes), ())]
+    while waiting:
+        holds, lot = waiting.pop()
+        steps = [ring for ring in firm_rings(wishes, holds) if is_steady(wishes, over(holds, ring))]
+        if not steps:
+            found.add(lot)
+        for ring in steps:
+            more = tuple(sorted(lot + (ring,)))
+            if more not in met:
+                met.add(more)
+                waiting.append((over(holds, ring), more))
+    return sorted(found)
+
+
+def holds_behind(wishes, lot):
+    """The firm holds of a lot: its turns turned over in any sequence in which they can be."""
+    holds, left = greatest(wishes), list(lot)
+    while left:
+        for ring in set(firm_rings(wishes, holds)) & set(left):
+            left.remove(ring)
+            holds = over(holds, ring)
+    return holds
+
+
+def parting_of_lot(wishes, lot):
+    """Of point 46: the next one of each person is who holds it."""
+    holds = holds_behind(wishes, lot)
+    return tuple(person if holder(holds, person) is None else holder(holds, person) for person in persons(wishes))
+
+
+def pairing_of_parting(parting):
+    return tuple((person, other) for person, other in enumerate(parting) if person < other)

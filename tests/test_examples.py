@@ -1,19 +1,19 @@
-"""The examples of the document, word for word, as far as they tell of what is built."""
+"""The examples of the document, word for word."""
 
 import doctest
 import os
 import unittest
 
-# Of the examples of points 43, 45, 64 and 79 only the lines for what is built are here.
+# All examples of a chapter go on from one another.
 CHAPTERS = {
-    "the overview": """
+    "1. Overview": """
     >>> from lastpairs.reader import read_wishes
     >>> from lastpairs.partings import odd_rings, parting_of
     >>> wishes = read_wishes("ann: bob cid\\nbob: cid ann\\ncid: ann bob")
     >>> parting_of(wishes), odd_rings(wishes)
     ((1, 2, 0), ((0, 1, 2),))
     """,
-    "[8] to [10]": """
+    "3. Wishes": """
     >>> from lastpairs.remade import pieces_in, renamed_wishes
     >>> from lastpairs.sides import sides_or_ring
     >>> from lastpairs.wishes import Wishes, best_of, rank_of
@@ -25,7 +25,7 @@ CHAPTERS = {
     >>> sides_or_ring(Wishes(("ash", "bee", "elm", "owl"), ((1, 3), (2, 0), (1,), (0,))))
     ('sides', (0, 1, 0, 1))
     """,
-    "[12] to [14]": """
+    "4. Texts": """
     >>> from lastpairs.reader import read_pairing, read_parting, read_wishes
     >>> wishes = read_wishes("moss: fir lark\\nfir: lark moss\\n\\nwren:\\nlark: moss fir")
     >>> wishes.names, wishes.lists
@@ -36,7 +36,7 @@ CHAPTERS = {
     >>> show_wishes(wishes), show_pairing(wishes, ((0, 2),)), show_parting(wishes, (1, 2, 0, 3))
     ('fir: lark moss\\nlark: moss fir\\nmoss: fir lark\\nwren:', 'fir moss', 'fir lark moss')
     """,
-    "[15] to [20]": """
+    "5. Meaning": """
     >>> from lastpairs.between import gainers, rings_between
     >>> from lastpairs.plain import blocking_pairs, lasting_pairings
     >>> from lastpairs.wishes import Wishes
@@ -53,7 +53,7 @@ CHAPTERS = {
     >>> split_ring((1, 2, 3, 0, 4), 0), split_ring((1, 2, 3, 0, 4), 1)
     ((1, 0, 3, 2, 4), (3, 2, 1, 0, 4))
     """,
-    "[21] to [26]": """
+    "6. Proposals": """
     >>> from lastpairs.left import firsts_left, is_steady, left_lists
     >>> from lastpairs.proposals import asked_once, asked_out, askers
     >>> from lastpairs.wishes import Wishes
@@ -63,13 +63,13 @@ CHAPTERS = {
     >>> askers(wishes, (None, None, None, 0, None)), asked_once(wishes, (None, None, None, 4, None), 0)
     ((1, 2, 3), (None, 0, None, 4, None))
     >>> from lastpairs.askpapers import ends_left, is_barring_asks
+    >>> from lastpairs.sidepairs import side_pairing
     >>> ends_left(wishes), is_barring_asks(wishes, 3, 4, (0, 2))
     (((1, 3), (2, 0), (3, 1), (0, 2), None), True)
-    >>> from lastpairs.sidepairs import side_pairing
     >>> side_pairing(wishes, (0, 1, 0, 1, 0), 0), side_pairing(wishes, (0, 1, 0, 1, 0), 1)
     (((0, 1), (2, 3)), ((0, 3), (1, 2)))
     """,
-    "[27] and [28]": """
+    "7. Rings turned out": """
     >>> from lastpairs.proposals import asked_out
     >>> from lastpairs.turnrings import turn_rings, turned_out
     >>> from lastpairs.wishes import Wishes
@@ -78,14 +78,11 @@ CHAPTERS = {
     ((3, 0, 1, 2), (((0, 1), (2, 3)), ((1, 2), (3, 0))))
     >>> turned_out(wishes, (3, 0, 1, 2), ((0, 1), (2, 3)))
     (3, 2, 1, 0)
-    """,
-    "[31]": """
-    >>> from lastpairs.wishes import Wishes
     >>> from lastpairs.turningout import solved
     >>> solved(Wishes(("a", "b", "c", "d"), ((1, 2, 3), (2, 0, 3), (0, 1, 3), (0, 1, 2))))
     ('ring', (0, 1, 2), (1, 2, 0, 3))
     """,
-    "[33] to [37]": """
+    "8. Partings": """
     >>> from lastpairs.partings import odd_rings, parting_of, single_persons
     >>> from lastpairs.wishes import Wishes
     >>> wishes = Wishes(("a", "b", "c", "d"), ((1, 2, 3), (2, 0, 3), (0, 1, 3), (0, 1, 2)))
@@ -98,7 +95,7 @@ CHAPTERS = {
     >>> halves_of((1, 2, 0, 3)), are_lasting_halves(wishes, ((0, 1, 2), (2, 3, 2)))
     (((0, 1, 1), (0, 2, 1), (1, 2, 1)), False)
     """,
-    "[40] to [43]": """
+    "9. All turns": """
     >>> from lastpairs.firm import firm_rings, held_by, turned_over
     >>> from lastpairs.wishes import Wishes
     >>> wishes = Wishes(("a", "b", "c", "d"), ((1, 3), (2, 0), (3, 1), (0, 2)))
@@ -107,17 +104,48 @@ CHAPTERS = {
     >>> from lastpairs.turns import all_turns, holds_of_turns, opposite_turn
     >>> opposite_turn(((0, 1), (2, 3))), all_turns(wishes)
     (((1, 2), (3, 0)), (((0, 1), (2, 3)), ((1, 2), (3, 0))))
-    >>> holds_of_turns(wishes, (((0, 1), (2, 3)),))
-    (3, 2, 1, 0)
+    >>> from lastpairs.turnkinds import free_turns, odd_turns, sure_turns
+    >>> free_turns(wishes), odd_turns(Wishes(("a", "b", "c"), ((1, 2), (2, 0), (0, 1)))), holds_of_turns(wishes, (((0, 1), (2, 3)),))
+    ((((0, 1), (2, 3)), ((1, 2), (3, 0))), (((0, 1), (1, 2), (2, 0)),), (3, 2, 1, 0))
     """,
-    "[45]": """
+    "10. The order of turns": """
+    >>> from lastpairs.closedlots import closed_with, turns_next
+    >>> from lastpairs.completelots import complete_lots, lot_of_pairing, pairings_by_lots
     >>> from lastpairs.order import lean_pairs
     >>> from lastpairs.wishes import Wishes
     >>> wishes = Wishes(("a", "b", "c", "d"), ((1, 3), (2, 0), (3, 1), (0, 2)))
-    >>> lean_pairs(wishes)
-    ()
+    >>> lean_pairs(wishes), turns_next(wishes, ()), pairings_by_lots(wishes)
+    ((), (((0, 1), (2, 3)), ((1, 2), (3, 0))), (((0, 1), (2, 3)), ((0, 3), (1, 2))))
+    >>> from lastpairs.exchanging import exchange_row, pairings_beside
+    >>> complete_lots(wishes), lot_of_pairing(wishes, ((0, 1), (2, 3)))
+    (((((0, 1), (2, 3)),), (((1, 2), (3, 0)),)), (((1, 2), (3, 0)),))
+    >>> pairings_beside(wishes, ((0, 1), (2, 3)))
+    (((0, 3), (1, 2)),)
     """,
-    "[58] to [61]": """
+    "11. Counted": """
+    >>> from lastpairs.counted import choices_in, count_pairings, count_with
+    >>> from lastpairs.numbered import lot_after, lot_at, pairing_at
+    >>> from lastpairs.wishes import Wishes
+    >>> wishes = Wishes(("a", "b", "c", "d"), ((1, 3), (2, 0), (3, 1), (0, 2)))
+    >>> choices_in(wishes), count_pairings(wishes), count_with(wishes, (((0, 1), (2, 3)),))
+    (((((0, 1), (2, 3)), ((1, 2), (3, 0))),), 2, 1)
+    >>> pairing_at(wishes, 0), lot_after(wishes, lot_at(wishes, 1))
+    (((0, 3), (1, 2)), None)
+    >>> from lastpairs.paircounts import pair_counts, sure_pairs
+    >>> sorted(pair_counts(wishes).items())[:2], sure_pairs(Wishes(("a", "b"), ((1,), (0,))))
+    ([((0, 1), 1), ((0, 3), 1)], ((0, 1),))
+    """,
+    "12. Asked": """
+    >>> from lastpairs.asked import asked
+    >>> from lastpairs.turnviews import chain_of, turn_with
+    >>> from lastpairs.wishes import Wishes
+    >>> wishes = Wishes(("a", "b", "c", "d"), ((1, 3), (2, 0), (3, 1), (0, 2)))
+    >>> chain_of(wishes, 0), turn_with(wishes, 0, 1), turn_with(wishes, 0, 3)
+    ((1, 3), ((0, 1), (2, 3)), None)
+    >>> asked(wishes, (("best", 1, 0),)), asked(wishes, (("with", 0, 1), ("best", 1, 0))), asked(wishes, (("either", 0, 2, 0, 3),))
+    (((0, 3), (1, 2)), None, ((0, 3), (1, 2)))
+    """,
+    "13. Middles": """
     >>> from lastpairs.middles import difference, middle_pairing
     >>> from lastpairs.plain import lasting_pairings
     >>> from lastpairs.wishes import Wishes
@@ -134,23 +162,31 @@ CHAPTERS = {
     >>> level_pairing(wishes, (0, 0, 0, 1, 1, 1), (told[2], told[0]), 0), level_pairing(wishes, (0, 0, 0, 1, 1, 1), (told[2], told[0]), 1) == told[2]
     (((0, 3), (1, 4), (2, 5)), True)
     """,
-    "[63]": """
+    "14. Best": """
     >>> from lastpairs.bounds import cut_wishes, within_paper
+    >>> from lastpairs.limits import bounds_of_limits, lasting_in_order, possible_ranks
     >>> from lastpairs.wishes import Wishes
     >>> wishes = Wishes(("a", "b", "c", "d"), ((1, 3), (2, 0), (3, 1), (0, 2)))
     >>> within_paper(wishes, (0, None, None, None)), within_paper(wishes, (0, 0, None, None))
     (('within', ((0, 1), (2, 3))), ('barred', (0, 1, 3, 2)))
     >>> cut_wishes(wishes, (0, 0, None, None)).lists
     ((), (2,), (3, 1), (2,))
+    >>> bounds_of_limits(wishes, ((1, 1), None, None, None)), possible_ranks(wishes, 0)
+    ((1, 0, None, None), (0, 1))
+    >>> lasting_in_order(wishes, (1, 0, 2, 3), 2)
+    (((0, 3), (1, 2)), ((0, 1), (2, 3)))
     """,
-    "[67]": """
+    "15. Comes and goes": """
     >>> from lastpairs.arrivals import coming_end, coming_row
+    >>> from lastpairs.mended import changed_part, parting_with
     >>> from lastpairs.wishes import Wishes
     >>> wishes = Wishes(("a", "b", "c", "d"), ((1, 2, 3), (2, 0, 3), (0, 1, 3), (0, 1, 2)))
     >>> coming_row(wishes, (0, 1), (1, 0, 2, 3), 2), coming_end(wishes, (0, 1), (1, 0, 2, 3), 2)
     (((2, 0), (2, 1), (0, 2)), 'ring')
+    >>> parting_with(wishes, (0, 1), (1, 0, 2, 3), 2), changed_part(wishes, (0, 1, 2), 3)
+    ((1, 2, 0, 3), ('more', (3,)))
     """,
-    "[72] and [73]": """
+    "16. Nearly": """
     >>> from lastpairs.asides import aside_pairing, asides_of
     >>> from lastpairs.calm import is_calm, most_calm
     >>> from lastpairs.wishes import Wishes
@@ -163,15 +199,26 @@ CHAPTERS = {
     >>> fewest_away(wishes), least_aways(wishes), others_pairing(wishes, (2,))
     (1, ((0,), (1,), (2,)), ((0, 1),))
     """,
-    "[75] to [77]": """
+    "17. The desk": """
+    >>> from lastpairs.desk import Desk, start_desk
     >>> from lastpairs.disk import Disk, cut_cells
-    >>> from lastpairs.lodgings import Lodging, lodging_after_all
     >>> from lastpairs.reader import read_wishes
-    >>> wishes = read_wishes("ann: bob\\nbob: ann cid\\ncid: bob")
-    >>> lodging_after_all(Lodging(wishes, ()), (("settle", ((0, 1),)), ("come", "bea", ((0, 0), (2, 1))))).pairing
-    ((0, 2),)
+    >>> disk = Disk((0,) * 600)
+    >>> desk = start_desk(disk, read_wishes("ann: bob\\nbob: ann cid\\ncid: bob"))
+    >>> desk.settle(), desk.do(("come", "bea", ((0, 0), (2, 1))))
+    (('settle', ((0, 1),)), ('come', 'bea', ((0, 0), (2, 1))))
+    >>> Desk(Disk(tuple([disk.look(at) for at in range(600)]))).lodging.pairing, desk.settle()
+    (((0, 2),), ('settle', ((0, 1), (2, 3))))
     >>> cut_cells((5, 6, 7, 8), ((1, 9), None, (2, 3), (0, 4)), (77, 0))
     (77, 9, 0, 8)
+    """,
+    "18. Runs and claims": """
+    >>> from lastpairs.lodgings import Lodging
+    >>> from lastpairs.reader import read_wishes
+    >>> from lastpairs.runs import run_script
+    >>> lodging = Lodging(read_wishes("ann: bob cid\\nbob: cid ann\\ncid: ann bob"), ())
+    >>> run_script(lodging, "settle\\ncalm\\ncome dan ann 0\\nsettle\\nleft ann bob\\njoin ann bob")
+    ('barred ann bob cid', 'calm 1', 'did', 'settled ann dan, bob cid', 'never', 'refused')
     """,
 }
 

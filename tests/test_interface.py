@@ -5,7 +5,7 @@ import importlib
 import inspect
 import unittest
 
-from tests.test_language import text_of
+from tests.test_language import files, text_of
 
 FUNCTIONS = {
     "printer": ["show_wishes(wishes)", "show_pairing(wishes, pairing)", "show_parting(wishes, parting)"],
@@ -124,6 +124,54 @@ FUNCTIONS = {
         "wishes_paper(wishes)", "is_pairing_paper(wishes, value)", "is_ring_paper(wishes, value)", "status_in(parting, person)",
         "status_paper(wishes, person)", "is_status_paper(wishes, value)",
     ],
+    "turnkinds": ["is_complete(wishes, turns)", "odd_turns(wishes)", "sure_turns(wishes)", "free_turns(wishes)"],
+    "turnviews": ["chain_of(wishes, person)", "turn_with(wishes, giver, taker)", "clauses_of(wishes, condition)"],
+    "best": [
+        "greatest_rank(wishes, pairing)", "rank_sum(wishes, pairing)", "least_greatest(wishes)", "least_paper(wishes)",
+        "is_least_paper(wishes, value)", "favoured_pairing(wishes, order)", "favoured_paper(wishes, order)",
+        "is_favoured_paper(wishes, order, value)", "least_sum(wishes)",
+    ],
+    "closedlots": [
+        "is_closed(wishes, value)", "closed_with(wishes, turns)", "closed_without(wishes, turns)", "closed_lots(wishes)",
+        "turns_next(wishes, turns)", "turns_last(wishes, turns)", "mirror_lot(wishes, turns)", "is_turn_order(wishes, value)",
+    ],
+    "counted": ["choices_in(wishes)", "count_lots(wishes)", "count_with(wishes, turns)", "count_pairings(wishes)"],
+    "desk": ["start_desk(disk, wishes)"],
+    "limits": [
+        "keeps_limits(wishes, limits, pairing)", "bounds_of_limits(wishes, limits)", "pairing_in_limits(wishes, limits)",
+        "possible_ranks(wishes, person)", "lasting_in_order(wishes, order, many)",
+    ],
+    "mended": [
+        "parting_with(wishes, here, parting, person)", "coming_paper(wishes, here, person)", "is_coming_paper(wishes, here, person, value)",
+        "change_by(here, person, paper)", "changed_part(wishes, here, person)",
+    ],
+    "nearlypapers": ["calm_paper(wishes)", "is_calm_paper(wishes, value)", "away_paper(wishes)", "is_away_paper(wishes, value)"],
+    "comings": ["parting_by_comings(wishes, order)", "askings_by(wishes, order)"],
+    "completelots": [
+        "is_complete_lot(wishes, value)", "complete_lots(wishes)", "completed_lot(wishes, turns)", "parting_of_lot(wishes, turns)",
+        "pairing_of_lot(wishes, turns)", "lot_of_pairing(wishes, pairing)", "pairings_by_lots(wishes)",
+    ],
+    "leavings": ["parting_without(wishes, here, parting, person)"],
+    "paircounts": ["pair_counts(wishes)", "mates_of(wishes, person)", "sure_pairs(wishes)"],
+    "runs": [
+        "run_commands(lodging, commands)", "run_with_papers(lodging, commands)", "lodging_of_run(lodging, commands, results)",
+        "show_result(result)", "run_script(lodging, text)",
+    ],
+    "asked": ["asked(wishes, question)"],
+    "claims": ["run_fault(lodging, commands, answers)", "is_so(value)", "not_so(values)"],
+    "exchanging": [
+        "exchangeable(wishes, turns)", "exchanged_lot(wishes, turns, turn)", "exchange_row(wishes, one, other)",
+        "pairings_beside(wishes, pairing)",
+    ],
+    "numbered": [
+        "first_lot(wishes)", "last_lot(wishes)", "lot_after(wishes, turns)", "lot_at(wishes, number)", "number_of_lot(wishes, turns)",
+        "pairing_at(wishes, number)", "number_of_pairing(wishes, pairing)",
+    ],
+    "askedpapers": [
+        "asked_paper(wishes, question)", "is_answer_paper(wishes, question, value)", "is_never_paper(wishes, question, value)",
+        "is_walk_paper(wishes, question, value)",
+    ],
+    "pairsin": ["pairs_in_all(wishes)", "pairs_in_some(wishes)", "pairs_wished(wishes, question)", "pairs_forced(wishes, question)"],
 }
 
 CLASSES = {
@@ -145,10 +193,27 @@ CLASSES = {
         "PairingPaper": ["__init__(self, pairing)"], "RingPaper": ["__init__(self, parting, ring)"],
         "StatusPaper": ["__init__(self, person, status, parting)"],
     },
+    "best": {"LeastPaper": ["__init__(self, pairing, parting)"], "FavouredPaper": ["__init__(self, pairing, partings)"]},
+    "desk": {
+        "Desk": ["__init__(self, disk)", "do(self, deed)", "settle(self)", "undo(self)", "deeds(self)", "begun(self)", "pack(self)"],
+    },
+    "mended": {"ComingPaper": ["__init__(self, parting, mended)"]},
+    "nearlypapers": {"CalmPaper": ["__init__(self, pairing, parting)"], "AwayPaper": ["__init__(self, persons, pairing, parting)"]},
+    "keptparting": {
+        "KeptParting": ["__init__(self, wishes)", "comes(self, person)", "goes(self, person)", "present_parting(self)", "present_parts(self)"],
+    },
+    "askedpapers": {
+        "AnswerPaper": ["__init__(self, pairing)"], "NeverPaper": ["__init__(self, place)"], "WalkPaper": ["__init__(self, turns)"],
+    },
 }
 
 
 class InterfaceTest(unittest.TestCase):
+    def test_all_modules_are_told(self):
+        told = set(FUNCTIONS) | set(CLASSES)
+        self.assertEqual(len(told), 63)
+        self.assertLessEqual({module + ".py" for module in told}, set(files()))
+
     def test_functions(self):
         for module, functions in FUNCTIONS.items():
             loaded = importlib.import_module("lastpairs." + module)
