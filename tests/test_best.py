@@ -8,6 +8,7 @@ from lastpairs.best import (
     least_sum, rank_sum,
 )
 from lastpairs.bounds import cut_wishes
+from lastpairs.judge import is_parting
 from lastpairs.plain import is_lasting
 from lastpairs.plainpartings import lasting_partings
 from tests import naive
@@ -110,7 +111,8 @@ class BestTest(unittest.TestCase):
             self.assertIs(is_favoured_paper(ODD, ORDER, FavouredPaper(pairing, ())), False)
 
     def test_sums_of_twelve_and_thirteen_persons(self):
-        self.assertEqual(least_sum(side_by_side(THREE, THREE)), naive_least(side_by_side(THREE, THREE)))
+        six = side_by_side(THREE, THREE)
+        self.assertEqual(total(six, least_sum(six)), total(six, naive_least(six)))
         self.assertEqual(rank_sum(squares(3), least_sum(squares(3))), 6)
         for wishes in (side_by_side(THREE, THREE, wishes_of(())), wishes_of(*[()] * 13), round_rings(13), ring_wishes(60)):
             self.assertEqual(raised(least_sum, wishes), ("Refused", "size"))
@@ -137,9 +139,12 @@ class BestTest(unittest.TestCase):
         self.assertGreater(several, 20)
 
 
+def naive_lasting(wishes):
+    return [naive.pairing_of_parting(naive.parting_of_lot(wishes, lot)) for lot in naive.complete_lots(wishes)]
+
+
 def naive_least(wishes):
-    from lastpairs.plain import lasting_pairings
-    return min(lasting_pairings(wishes), key=lambda pairing: total(wishes, pairing))
+    return min(naive_lasting(wishes), key=lambda pairing: total(wishes, pairing))
 
 
 class PapersTest(unittest.TestCase):
@@ -181,6 +186,21 @@ class PapersTest(unittest.TestCase):
         # A lasting pairing with a greater greatest rank, and what would bar less.
         self.assertIs(is_least_paper(THREE, LeastPaper(((0, 3), (1, 4), (2, 5)), least_paper(THREE).parting)), False)
         self.assertIs(is_least_paper(THREE, LeastPaper(MIDDLE, (3, 4, 5, 1, 2, 0))), False)
+
+    def test_single_persons_in_least_papers(self):
+        """They have no bound: as a single one that has one it would bar all."""
+        both = side_by_side(SQUARE, CHAIN)
+        paper = least_paper(both)
+        self.assertEqual((greatest_rank(both, paper.pairing), paper.parting), (1, (0, 1, 2, 3, 5, 4, 6)))
+        self.assertIs(is_least_paper(both, paper), True)
+        three = side_by_side(THREE, CHAIN)
+        self.assertEqual(least_greatest(three), MIDDLE + ((6, 7),))
+        worse = ((0, 3), (1, 4), (2, 5), (6, 7))
+        self.assertIn(worse, naive_lasting(three))
+        # With bounds of 1 the middle pairing is left, and 8 is single: this would bar, if 8 had a bound.
+        parting = (4, 5, 3, 2, 0, 1, 7, 6, 8)
+        self.assertTrue(is_parting(cut_wishes(three, (1,) * 8 + (None,)), parting))
+        self.assertIs(is_least_paper(three, LeastPaper(worse, parting)), False)
 
     def test_favoured_papers(self):
         paper = favoured_paper(SQUARE, ORDER)

@@ -216,6 +216,11 @@ class BrokenTest(unittest.TestCase):
         for at in range(len(one) - 4):
             self.assertEqual(self.error_of((one[:at] + (one[at] ^ 1,) + one[at + 1:],)), ("Broken", "desk"))
         right = self.records_of(start_desk(Disk((0,) * 600), TWO))
+        # What is in force must be a pairing.
+        self.assertEqual(right[0][-1], 0)
+        self.assertIsNone(self.error_of((right[0][:-1] + (2, 1, 2),)))
+        for pairs in ((1, 0), (2, 0, 2), (2, 1, 0), (2, 0, 0), (3, 0, 1, 2), (4, 0, 1, 1, 2), (4, 0, 1, 0, 1), (2, 2, 3), (2, 0, 255), (2, 0, 1, 0)):
+            self.assertEqual(self.error_of((right[0][:-1] + pairs,)), ("Broken", "desk"), pairs)
         for octets in [(word,) for word in range(256)] + [(word, 0) for word in range(256) if word != 1]:
             self.assertEqual(self.error_of(right + (octets,)), ("Broken", "desk"), octets)
         # A name that is said to be longer than it is.
